@@ -7,6 +7,7 @@ import (
 
 	"rabbet/api"
 	"rabbet/plain"
+	"rabbet/rle"
 )
 
 // codec is one of the encodings that have values of one type, one by one or together.
@@ -19,6 +20,7 @@ type codec struct {
 
 var codecs = []codec{
 	{"plain", plain.Put, plain.Take, []int{api.Small, api.Int, api.Bool, api.Text}},
+	{"rle", rle.Put, rle.Take, []int{api.Small, api.Int, api.Bool, api.Text}},
 }
 
 func some(r *rand.Rand, t int) api.Value {
