@@ -6,6 +6,7 @@ import (
 	"testing"
 
 	"rabbet/api"
+	"rabbet/dict"
 	"rabbet/plain"
 	"rabbet/rle"
 )
@@ -21,6 +22,7 @@ type codec struct {
 var codecs = []codec{
 	{"plain", plain.Put, plain.Take, []int{api.Small, api.Int, api.Bool, api.Text}},
 	{"rle", rle.Put, rle.Take, []int{api.Small, api.Int, api.Bool, api.Text}},
+	{"dict", dict.Put, dict.Take, []int{api.Small, api.Int, api.Bool, api.Text}},
 }
 
 func some(r *rand.Rand, t int) api.Value {
