@@ -7,6 +7,7 @@ import (
 
 	"rabbet/api"
 	"rabbet/dict"
+	"rabbet/pack"
 	"rabbet/plain"
 	"rabbet/rle"
 )
@@ -23,6 +24,7 @@ var codecs = []codec{
 	{"plain", plain.Put, plain.Take, []int{api.Small, api.Int, api.Bool, api.Text}},
 	{"rle", rle.Put, rle.Take, []int{api.Small, api.Int, api.Bool, api.Text}},
 	{"dict", dict.Put, dict.Take, []int{api.Small, api.Int, api.Bool, api.Text}},
+	{"pack", pack.Put, pack.Take, []int{api.Small, api.Int, api.Bool}},
 }
 
 func some(r *rand.Rand, t int) api.Value {
