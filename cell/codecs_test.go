@@ -6,6 +6,7 @@ import (
 	"testing"
 
 	"rabbet/api"
+	"rabbet/delta"
 	"rabbet/dict"
 	"rabbet/pack"
 	"rabbet/plain"
@@ -25,6 +26,7 @@ var codecs = []codec{
 	{"rle", rle.Put, rle.Take, []int{api.Small, api.Int, api.Bool, api.Text}},
 	{"dict", dict.Put, dict.Take, []int{api.Small, api.Int, api.Bool, api.Text}},
 	{"pack", pack.Put, pack.Take, []int{api.Small, api.Int, api.Bool}},
+	{"delta", delta.Put, delta.Take, []int{api.Small, api.Int}},
 }
 
 func some(r *rand.Rand, t int) api.Value {
