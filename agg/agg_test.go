@@ -103,6 +103,14 @@ func TestErrors(t *testing.T) {
 	}
 }
 
+func TestErrorsWithoutGroups(t *testing.T) {
+	for _, op := range []int{0, 5} {
+		if got, e := Run([][]api.Value{nil}, []int{0}, []Agg{{op, 0}}); e != api.EArg || got != nil {
+			t.Errorf("op %d: %v", op, e)
+		}
+	}
+}
+
 // TestFirstError: group by group, aggregate by aggregate.
 func TestFirstError(t *testing.T) {
 	c := [][]api.Value{sample.Ints(2, 1, 1), sample.List(sample.Text("a"), sample.Int(math.MaxInt64), sample.Int(1)), sample.List(sample.Int(1), sample.Text("b"), sample.Int(1))}

@@ -33,6 +33,9 @@ func TestColumnsRows(t *testing.T) {
 	if two[0][0] != sample.Int(1) {
 		t.Error("what is told is not new memory")
 	}
+	if cols, ok := Columns(rows(sample.Ints(1), sample.Ints(2)), 1); !ok || !sameCols(cols, [][]api.Value{sample.Ints(1, 2)}) || !SameRows(Rows(cols), rows(sample.Ints(1), sample.Ints(2))) {
+		t.Errorf("one column: %v", cols)
+	}
 	if cols, ok := Columns(nil, 6); !ok || len(cols) != 6 || len(cols[5]) != 0 {
 		t.Error("no rows: columns of no values")
 	}

@@ -57,6 +57,13 @@ func TestMay(t *testing.T) {
 	if !May(most) {
 		t.Error("version 0")
 	}
+	next := busyState()
+	for k := range 59 {
+		next.Next = append(next.Next, item(100+k, 1))
+	}
+	if !May(next) {
+		t.Error("as many to come as may be")
+	}
 }
 
 func TestMayNot(t *testing.T) {

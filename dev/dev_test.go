@@ -135,6 +135,21 @@ func TestKeepBeyondEight(t *testing.T) {
 	is(t, d, 10, block(0))
 }
 
+func TestNoSuchByte(t *testing.T) {
+	d := made(t, 20)
+	for i := range 20 {
+		d.Write(i, block(1))
+	}
+	d.Crash([]byte{0xff, 0xff}, -1, 0)
+	for i := range 20 {
+		want := block(1)
+		if i >= 16 {
+			want = block(0)
+		}
+		is(t, d, i, want)
+	}
+}
+
 func TestStop(t *testing.T) {
 	d := made(t, 3)
 	if d.Stopped() {

@@ -25,6 +25,9 @@ func TestWhere(t *testing.T) {
 }
 
 func TestTell(t *testing.T) {
+	if Of(api.OK) != nil {
+		t.Error("OK is no error")
+	}
 	if Tell(nil) != api.OK || Tell(Of(api.OK)) != api.OK {
 		t.Error("no error is OK")
 	}

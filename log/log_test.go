@@ -119,6 +119,63 @@ func TestMakeErrors(t *testing.T) {
 	}
 }
 
+// TestJustBlocks: records that fill their last block, and the area.
+func TestJustBlocks(t *testing.T) {
+	for _, m := range [][]int{{106}, {216}, {105, 107}, {106, 106, 106}, {326}, {216, 106}, {0, 216}, {107, 0}} {
+		d := device(8)
+		var r [][]byte
+		for i, n := range m {
+			r = append(r, bytes.Repeat([]byte{byte('a' + i)}, n))
+		}
+		if e := Make(d, 3, r); e != api.OK {
+			t.Fatalf("%v: %v", m, e)
+		}
+		if _, got, e := Open(d, 3); e != api.OK || !same(got, r) {
+			t.Errorf("%v: %q %v", m, got, e)
+		}
+	}
+}
+
+// TestTooLong: what is longer than MaxRecord is no record, be it whole.
+func TestTooLong(t *testing.T) {
+	for _, x := range []struct {
+		m    int
+		want int
+	}{{65536, 2}, {65537, 1}} {
+		d := device(2002)
+		if e := Make(d, 1000, recs("a")); e != api.OK {
+			t.Fatal(e)
+		}
+		text := append([]byte{0, byte(x.m >> 16), byte(x.m >> 8), byte(x.m)}, make([]byte, x.m)...)
+		for seq := uint32(1); len(text) > 0; seq++ {
+			n := min(len(text), api.Load)
+			b, _ := tag.Put(1, seq, text[:n])
+			d.Write(1002+int(seq), b)
+			text = text[n:]
+		}
+		if _, got, e := Open(d, 1000); e != api.OK || len(got) != x.want {
+			t.Errorf("%d bytes: %d records, %v", x.m, len(got), e)
+		}
+	}
+}
+
+// TestNoughtsAreSure: ahead of the first record, the whole area is noughts for sure.
+func TestNoughtsAreSure(t *testing.T) {
+	d := device(8)
+	l := opened(t, d, 3, "a", "b", "c")
+	d.Stop(4)
+	l.Anew(recs("d", "e"))
+	d.Crash(nil, -1, 0)
+	for i := 5; i < 8; i++ {
+		if b, _ := d.Read(i); !bytes.Equal(b, make([]byte, api.Size)) {
+			t.Errorf("block %d: %x", i, b)
+		}
+	}
+	if _, got, e := Open(d, 3); e != api.OK || !same(got, recs("a", "b", "c")) {
+		t.Errorf("%q %v", got, e)
+	}
+}
+
 func TestAppendErrors(t *testing.T) {
 	d := device(8)
 	l := opened(t, d, 3, "a")

@@ -261,6 +261,23 @@ func TestTriesAgain(t *testing.T) {
 	has(t, s, want)
 }
 
+// TestLostSegment: of a segment that is not there no step makes anything else.
+func TestLostSegment(t *testing.T) {
+	d, _ := dev.New(300)
+	sc, l := base()
+	store.Make(d, 60, sc, l)
+	s, _ := store.Open(d, 60)
+	insert(t, s, 0, 16)
+	if s.Flush() != api.OK || mig.Start(s, changes[0]) != api.OK {
+		t.Fatal("it is not begun")
+	}
+	d.Write(s.State().Segs[0].E.At, make([]byte, api.Size))
+	was := s.State()
+	if done, e := mig.Step(s); done || e == api.OK || !reflect.DeepEqual(s.State(), was) {
+		t.Errorf("%v %v", done, e)
+	}
+}
+
 func TestNil(t *testing.T) {
 	done, e := mig.Step(nil)
 	if mig.Start(nil, changes[0]) != api.EArg || done || e != api.EArg || mig.Undo(nil) != api.EArg {

@@ -61,6 +61,13 @@ func TestApart(t *testing.T) {
 	}
 }
 
+func TestApartByTheFirst(t *testing.T) {
+	got := Apart([][]api.Value{sample.Texts("a", "b", "c", "d", "e", "f")}, 0, 2)
+	if len(got) != 2 || len(got[0]) == 0 || len(got[1]) == 0 {
+		t.Errorf("%v", got)
+	}
+}
+
 func TestNotApart(t *testing.T) {
 	cols := [][]api.Value{sample.Ints(1, 2, 3), sample.Ints(1, 2, 3, 4)}
 	for _, x := range []struct{ at, n int }{{0, 1}, {0, 0}, {0, -3}, {2, 4}, {-1, 4}} {

@@ -68,6 +68,15 @@ func TestErrors(t *testing.T) {
 	if p := Read([]byte{9}); p.Below(0, 7) != 2 || p.Err() != nil {
 		t.Error("what is above is taken modulo most")
 	}
+	for _, n := range []int{0, 65535} {
+		p := Write()
+		if p.High(n, 2); p.Err() != nil || len(p.Out()) != 2 {
+			t.Errorf("%d: %v", n, p.Err())
+		}
+	}
+	if p := Read([]byte{2, 0, 0}); p.Count(0) != 2 || p.Err() != nil {
+		t.Error("just as many as there may be")
+	}
 	if p := Read([]byte{200, 1, 0}); p.Count(0) != 0 || !errors.Is(p.Err(), fault.ErrShort) {
 		t.Error("more than there may be")
 	}

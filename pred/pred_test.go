@@ -166,4 +166,6 @@ func TestWhatDoesNotFit(t *testing.T) {
 	Row(cols, l, nil)
 	Rows(cols, l, [][]api.Value{sample.Ints(1)})
 	Can(cols, l, -1, nil)
+	Can(cols, []api.Test{test("n", api.Equal, sample.Int(1))}, 1, nil)
+	Can(cols, l, 1, make([]api.Zone, 1))
 }

@@ -51,7 +51,15 @@ func TestErrors(t *testing.T) {
 			t.Errorf("%d: something is read behind an error", i)
 		}
 	}
-	r := New(nil)
+	r := New([]byte{0, 7})
+	if r.Bytes(3); r.Value() != (api.Value{}) || r.Num() != 0 || r.At() != 0 {
+		t.Error("what may be read is not, behind an error")
+	}
+	r = New([]byte{7})
+	if len(r.Bytes(0)) != 0 || len(r.Bytes(1)) != 1 || len(r.Bytes(0)) != 0 || r.Err() != nil {
+		t.Error("all bytes, and none")
+	}
+	r = New(nil)
 	r.Fail(fault.ErrType)
 	r.Fail(fault.ErrSpare)
 	if !errors.Is(r.Err(), fault.ErrType) || errors.Is(r.Err(), fault.ErrSpare) {

@@ -48,6 +48,9 @@ func TestMay(t *testing.T) {
 			t.Errorf("%d: %v may be", i, s)
 		}
 	}
+	if !May(api.Schema{Cols: good.Cols[:1], Last: 3}) {
+		t.Error("one column")
+	}
 	good.Cols, good.Last = append(good.Cols, api.Column{ID: 10000, Name: "f", Type: api.Text}), 10000
 	if !May(good) {
 		t.Error("six columns, the last ID")

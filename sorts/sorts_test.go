@@ -50,6 +50,9 @@ func TestIs(t *testing.T) {
 			t.Errorf("column %d: %v", at, !want)
 		}
 	}
+	if Is(cols[1:], 0) {
+		t.Error("the first column")
+	}
 	if !Is(cols, -1) || !Is(nil, 0) {
 		t.Error("no such column")
 	}

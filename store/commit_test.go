@@ -2,6 +2,7 @@ package store_test
 
 import (
 	"bytes"
+	"fmt"
 	"reflect"
 	"slices"
 	"testing"
@@ -213,6 +214,72 @@ func TestCommitOfNoRoom(t *testing.T) {
 	}
 	insert(t, s, rows(n, 1))
 	has(t, s, rows(0, n+1))
+}
+
+// TestCommitBegunOfNoRoom: though the record itself has room, nothing is begun of which all has none.
+func TestCommitBegunOfNoRoom(t *testing.T) {
+	sc, l := wideTable(4)
+	begun := cat.Record{Kind: cat.Begun, Change: api.Change{Kind: api.Add, Name: "another_name", Type: api.Text, Value: sample.Text("a text of its length")}}
+	area := (len(cat.Put(cat.Record{Kind: cat.All, State: api.State{Schema: sc, Layout: l}}))+113)/110 + 1
+	d := device(30)
+	if e := store.Make(d, area, sc, l); e != api.OK {
+		t.Fatal(e)
+	}
+	s := opened(t, d, area)
+	n := d.Writes()
+	if e := s.Commit(begun); e != api.EFull || d.Writes() != n || s.State().Busy {
+		t.Errorf("%v", e)
+	}
+}
+
+// TestCommitOfJustRoom: a record All that just has room in the area, and one that is a byte longer.
+func TestCommitOfJustRoom(t *testing.T) {
+	const letters = "twenty letters, just"
+	seen := map[int]bool{}
+	for n := range 21 * 21 {
+		s := made(t, device(100), 3, nil)
+		for left := 150 + n/21; left > 0; left -= 20 {
+			s.Insert([]api.Row{sample.List(sample.Null(), sample.Text(letters[:min(left, 20)]), sample.Null())})
+			s.Tidy()
+		}
+		r := cat.Record{Kind: cat.Fresh, Rows: []api.Row{sample.List(sample.Null(), sample.Text(letters[:n%21]), sample.Null()), make(api.Row, 3)}}
+		next, _ := cat.Apply(s.State(), r)
+		room := 3*110 - 4 - len(cat.Put(cat.Record{Kind: cat.All, State: next}))
+		e := s.Commit(r)
+		if e != api.OK && e != api.EFull || (e == api.OK) != (room >= 0) {
+			t.Fatalf("%d bytes of room: %v", room, e)
+		}
+		seen[room] = true
+	}
+	if !seen[0] || !seen[-1] {
+		t.Error("it was never just so")
+	}
+}
+
+// TestJustBlocks: a segment of just so many bytes as its blocks have.
+func TestJustBlocks(t *testing.T) {
+	s := made(t, device(300), 60, nil)
+	sc, l := base()
+	for n := range 200 {
+		var long []api.Row
+		for left := n; left > 0; left -= 20 {
+			long = append(long, sample.List(sample.Int(1), sample.Text(fmt.Sprintf("%02d twenty letters it is", n%100)[:min(left, 20)]), sample.Null()))
+		}
+		l.Enc[1] = api.Plain
+		items, e := s.Keep(0, 0, sc, l, append(long, row(1)))
+		if e != api.OK {
+			t.Fatal(e)
+		}
+		if items[0].Bytes%api.Size == 0 {
+			if items[0].E.N != items[0].Bytes/api.Size {
+				t.Errorf("%v", items[0])
+			}
+			mustLoad(t, s, items[0])
+			return
+		}
+		s.Commit(cat.Record{})
+	}
+	t.Error("it was never just so")
 }
 
 // TestCommitMakesLogAnew: where a record has no room behind the others, one of all takes their place.

@@ -123,14 +123,60 @@ func TestMakeErrors(t *testing.T) {
 			t.Errorf("%d: %v", i, e)
 		}
 	}
-	long := api.Schema{Last: 10000}
-	wide := api.Layout{Parts: 1}
-	for k := range 6 {
-		long.Cols = append(long.Cols, api.Column{ID: 9990 + k, Name: strings.Repeat(string(rune('a'+k)), 12), Type: api.Int})
-		wide.Enc = append(wide.Enc, api.Plain)
+	twice, none := base()
+	twice.Cols[1].Name, none.Parts = "n", 0
+	if e := store.Make(device(200), 40, twice, l); e != api.EArg {
+		t.Errorf("a schema that may not be: %v", e)
 	}
-	if e := store.Make(device(20), 1, long, wide); e != api.EFull && e != api.OK {
+	if e := store.Make(device(200), 40, sc, none); e != api.EArg {
+		t.Errorf("a layout that may not be: %v", e)
+	}
+	long, wide := wideTable(6)
+	if e := store.Make(device(20), 1, long, wide); e != api.EFull {
 		t.Errorf("a log of one block: %v", e)
+	}
+}
+
+// wideTable is a table of columns with long names.
+func wideTable(n int) (api.Schema, api.Layout) {
+	s, l := api.Schema{Last: 9999}, api.Layout{Parts: 1}
+	for k := range n {
+		s.Cols = append(s.Cols, api.Column{ID: 9990 + k, Name: strings.Repeat(string(rune('a'+k)), 12), Type: api.Text})
+		l.Enc = append(l.Enc, api.Plain)
+	}
+	return s, l
+}
+
+// TestOpenOfNoRoom: records that have room one by one, but not all that comes of them in one.
+func TestOpenOfNoRoom(t *testing.T) {
+	s, l := wideTable(4)
+	state := api.State{Schema: s, Layout: l}
+	begun := cat.Record{Kind: cat.Begun, Change: api.Change{Kind: api.Add, Name: "another_name", Type: api.Text, Value: sample.Text("a text of its length")}}
+	first := cat.Put(cat.Record{Kind: cat.All, State: state})
+	state, _ = cat.Apply(state, begun)
+	area := (len(first)+113)/110 + 1
+	if whole := cat.Put(cat.Record{Kind: cat.All, State: state}); len(whole)+4 <= area*110 {
+		t.Fatalf("%d bytes have room in %d blocks", len(whole), area)
+	}
+	d := device(30)
+	if e := log.Make(d, area, [][]byte{first, cat.Put(begun)}); e != api.OK {
+		t.Fatal(e)
+	}
+	if s, e := store.Open(d, area); s != nil || e != api.EFull {
+		t.Errorf("%v", e)
+	}
+}
+
+func TestLostSegment(t *testing.T) {
+	d := device(300)
+	s := made(t, d, 60, nil)
+	insert(t, s, rows(0, 40))
+	d.Write(s.State().Segs[1].E.At, make([]byte, api.Size))
+	if got, e := s.Query(api.Query{}); e == api.OK || got != nil {
+		t.Errorf("a segment is not there: %v", got)
+	}
+	if got, e := s.Query(api.Query{Limit: -1}); e != api.EArg || got != nil {
+		t.Errorf("the question comes first: %v", e)
 	}
 }
 
