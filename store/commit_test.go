@@ -95,9 +95,11 @@ func TestKeepAsTheyAre(t *testing.T) {
 
 func TestKeepErrors(t *testing.T) {
 	sc, l := base()
-	s := made(t, device(124), 60, nil) // two blocks of room
+	d := device(124) // two blocks of room
+	s := made(t, d, 60, nil)
+	writes := d.Writes()
 	for i, n := range []int{17, 33} {
-		if items, e := s.Keep(0, 0, sc, l, rows(0, n)); e != api.EFull || items != nil || s.Used() != 0 {
+		if items, e := s.Keep(0, 0, sc, l, rows(0, n)); e != api.EFull || items != nil || s.Used() != 0 || d.Writes() != writes {
 			t.Errorf("%d: no room: %v %v, %d taken", i, e, items, s.Used())
 		}
 	}

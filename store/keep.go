@@ -49,18 +49,29 @@ func (s *Store) keep(version, sortBy int, sc api.Schema, l api.Layout, rows []ap
 	if len(segs) > api.MaxSegs {
 		return nil, fault.At("segments", len(segs), fault.Of(api.EFull))
 	}
+	items, err := s.take(segs)
+	if err != nil {
+		return nil, err
+	}
+	for i, g := range segs {
+		s.write(items[i].E, seg.Put(g))
+	}
+	s.d.Flush()
+	return items, nil
+}
+
+// take takes room for each of segs, or none.
+func (s *Store) take(segs []api.Segment) ([]api.Item, error) {
 	var items []api.Item
 	for i, g := range segs {
-		b := seg.Put(g)
-		e, ok := s.room.Take(blocks(len(b)))
+		n := len(seg.Put(g))
+		e, ok := s.room.Take(blocks(n))
 		if !ok {
 			s.free(items)
 			return nil, fault.At("segment", i, fault.Of(api.EFull))
 		}
-		s.write(e, b)
-		items = append(items, api.Item{E: e, Bytes: len(b), Rows: seg.Rows(g), Part: g.Part})
+		items = append(items, api.Item{E: e, Bytes: n, Rows: seg.Rows(g), Part: g.Part})
 	}
-	s.d.Flush()
 	return items, nil
 }
 
