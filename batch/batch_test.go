@@ -1,10 +1,11 @@
-package batch
+package batch_test
 
 import (
 	"slices"
 	"testing"
 
 	"rabbet/api"
+	"rabbet/batch"
 	"rabbet/sample"
 )
 
@@ -22,51 +23,51 @@ func sameCols(a, b [][]api.Value) bool {
 
 func TestColumnsRows(t *testing.T) {
 	two := rows(sample.Ints(1, 2), sample.List(sample.Null(), sample.Text("a")))
-	cols, ok := Columns(two, 2)
+	cols, ok := batch.Columns(two, 2)
 	if !ok || !sameCols(cols, [][]api.Value{sample.List(sample.Int(1), sample.Null()), sample.List(sample.Int(2), sample.Text("a"))}) {
 		t.Errorf("Columns: %v %v", cols, ok)
 	}
-	if !SameRows(Rows(cols), two) {
-		t.Errorf("Rows: %v", Rows(cols))
+	if !batch.SameRows(batch.Rows(cols), two) {
+		t.Errorf("Rows: %v", batch.Rows(cols))
 	}
 	cols[0][0] = sample.Int(9)
 	if two[0][0] != sample.Int(1) {
 		t.Error("what is told is not new memory")
 	}
-	if cols, ok := Columns(rows(sample.Ints(1), sample.Ints(2)), 1); !ok || !sameCols(cols, [][]api.Value{sample.Ints(1, 2)}) || !SameRows(Rows(cols), rows(sample.Ints(1), sample.Ints(2))) {
+	if cols, ok := batch.Columns(rows(sample.Ints(1), sample.Ints(2)), 1); !ok || !sameCols(cols, [][]api.Value{sample.Ints(1, 2)}) || !batch.SameRows(batch.Rows(cols), rows(sample.Ints(1), sample.Ints(2))) {
 		t.Errorf("one column: %v", cols)
 	}
-	if cols, ok := Columns(nil, 6); !ok || len(cols) != 6 || len(cols[5]) != 0 {
+	if cols, ok := batch.Columns(nil, 6); !ok || len(cols) != 6 || len(cols[5]) != 0 {
 		t.Error("no rows: columns of no values")
 	}
 	for i, x := range []struct {
 		rows  []api.Row
 		width int
 	}{{nil, 0}, {nil, 7}, {nil, -1}, {two, 1}, {two, 3}, {rows(sample.Ints(1, 2), sample.Ints(1)), 2}, {rows(sample.Ints(1, 2), nil), 2}, {rows(sample.Ints(1, 2, 3, 4, 5, 6, 7)), 7}} {
-		if cols, ok := Columns(x.rows, x.width); ok || cols != nil {
+		if cols, ok := batch.Columns(x.rows, x.width); ok || cols != nil {
 			t.Errorf("%d: %v", i, cols)
 		}
 	}
 }
 
 func TestRowsOfUnevenColumns(t *testing.T) {
-	if got := Rows([][]api.Value{sample.Ints(1, 2, 3), sample.Ints(4, 5)}); !SameRows(got, rows(sample.Ints(1, 4), sample.Ints(2, 5))) {
+	if got := batch.Rows([][]api.Value{sample.Ints(1, 2, 3), sample.Ints(4, 5)}); !batch.SameRows(got, rows(sample.Ints(1, 4), sample.Ints(2, 5))) {
 		t.Errorf("%v", got)
 	}
-	if Rows(nil) != nil || len(Rows([][]api.Value{sample.Ints(1), nil})) != 0 {
+	if batch.Rows(nil) != nil || len(batch.Rows([][]api.Value{sample.Ints(1), nil})) != 0 {
 		t.Error("rows of nothing")
 	}
 }
 
 func TestPick(t *testing.T) {
 	cols := [][]api.Value{sample.Ints(1, 2, 3), sample.Ints(4, 5)}
-	if got := Pick(cols, []int{2, 0, -1, 0, 9, 1}); !sameCols(got, [][]api.Value{sample.Ints(3, 1, 1, 2), sample.Ints(4, 4, 5)}) {
+	if got := batch.Pick(cols, []int{2, 0, -1, 0, 9, 1}); !sameCols(got, [][]api.Value{sample.Ints(3, 1, 1, 2), sample.Ints(4, 4, 5)}) {
 		t.Errorf("%v", got)
 	}
-	if got := Pick(cols, nil); !sameCols(got, [][]api.Value{nil, nil}) {
+	if got := batch.Pick(cols, nil); !sameCols(got, [][]api.Value{nil, nil}) {
 		t.Errorf("%v", got)
 	}
-	if len(Pick(nil, []int{0})) != 0 {
+	if len(batch.Pick(nil, []int{0})) != 0 {
 		t.Error("of no columns")
 	}
 }
@@ -76,8 +77,8 @@ func TestPlaces(t *testing.T) {
 		{[]int{1, 2}, []int{2, 3}, []int{2}, []int{1, 2, 3}}, {nil, nil, nil, nil}, {[]int{1}, nil, nil, []int{1}}, {nil, []int{4, 7}, nil, []int{4, 7}},
 		{[]int{1, 1, 5}, []int{1, 5, 5, 6}, []int{1, 5}, []int{1, 5, 6}}, {[]int{0, 2, 4}, []int{1, 3}, nil, []int{0, 1, 2, 3, 4}},
 	} {
-		if !slices.Equal(Meet(x.a, x.b), x.meet) || !slices.Equal(Join(x.a, x.b), x.join) {
-			t.Errorf("%v, %v: %v, %v", x.a, x.b, Meet(x.a, x.b), Join(x.a, x.b))
+		if !slices.Equal(batch.Meet(x.a, x.b), x.meet) || !slices.Equal(batch.Join(x.a, x.b), x.join) {
+			t.Errorf("%v, %v: %v, %v", x.a, x.b, batch.Meet(x.a, x.b), batch.Join(x.a, x.b))
 		}
 	}
 	for _, x := range []struct {
@@ -85,15 +86,15 @@ func TestPlaces(t *testing.T) {
 		n    int
 		want []int
 	}{{nil, 3, []int{0, 1, 2}}, {[]int{1}, 3, []int{0, 2}}, {[]int{0, 1, 2}, 3, nil}, {[]int{1}, 0, nil}, {nil, -5, nil}, {[]int{-1, 1, 7}, 3, []int{0, 2}}} {
-		if !slices.Equal(Rest(x.a, x.n), x.want) {
-			t.Errorf("Rest(%v, %d): %v", x.a, x.n, Rest(x.a, x.n))
+		if !slices.Equal(batch.Rest(x.a, x.n), x.want) {
+			t.Errorf("Rest(%v, %d): %v", x.a, x.n, batch.Rest(x.a, x.n))
 		}
 	}
 }
 
 func TestPlacesAreNewMemory(t *testing.T) {
 	a, b := append(make([]int, 0, 9), 1, 2), []int{3}
-	j := Join(a, b)
+	j := batch.Join(a, b)
 	j[0] = 7
 	if a[0] != 1 || a[:3][2] != 0 {
 		t.Error("a list that was handed in is changed")
@@ -115,11 +116,11 @@ func TestSame(t *testing.T) {
 		{rows(sample.Ints(1, 2), sample.Ints(3, 4), sample.List(sample.Int(1), api.Value{Type: api.Int, I: 2, S: "a"})), false, false},
 		{nil, false, false},
 	} {
-		if SameRows(a, x.b) != x.rows || SameBag(a, x.b) != x.bag || SameBag(x.b, a) != x.bag {
+		if batch.SameRows(a, x.b) != x.rows || batch.SameBag(a, x.b) != x.bag || batch.SameBag(x.b, a) != x.bag {
 			t.Errorf("%d", i)
 		}
 	}
-	if a[1][0] != sample.Int(3) || !SameRows(nil, []api.Row{}) || !SameBag(nil, []api.Row{}) || !SameRows([]api.Row{nil}, []api.Row{{}}) {
+	if a[1][0] != sample.Int(3) || !batch.SameRows(nil, []api.Row{}) || !batch.SameBag(nil, []api.Row{}) || !batch.SameRows([]api.Row{nil}, []api.Row{{}}) {
 		t.Error("nil and an empty list are one, and nothing is changed")
 	}
 }

@@ -1,4 +1,4 @@
-package cat
+package cat_test
 
 import (
 	"math/rand"
@@ -7,16 +7,17 @@ import (
 	"testing"
 
 	"rabbet/api"
+	"rabbet/cat"
 	"rabbet/fresh"
 	"rabbet/sample"
 )
 
-func records() []Record {
+func records() []cat.Record {
 	all := api.Change{Kind: -1, Col: 1 << 40, Name: "name of more than twelve", Type: 9, Value: api.Value{Type: 77, I: -1 << 63, S: strings.Repeat("s", 300)}, Sep: 255, N: -5}
-	return []Record{
-		{Kind: All}, {Kind: All, State: idleState()}, {Kind: All, State: busyState()}, {Kind: Fresh}, {Kind: Fresh, Rows: []api.Row{nil, sample.List(sample.Int(1<<63-1), sample.Text("a\x00"), sample.Null(), api.Value{Type: 9, I: -1, S: "x"})}},
-		{Kind: Flushed, N: 3}, {Kind: Flushed, N: 1 << 50, Items: []api.Item{item(1, 2), {}}, More: []api.Item{{E: api.Extent{At: -1, N: -2}, Bytes: 1 << 60, Rows: -3, Part: 4}}},
-		{Kind: Begun, Change: widen}, {Kind: Begun, Change: all}, {Kind: Moved}, {Kind: Moved, Items: []api.Item{item(3, 4)}}, {Kind: Cut}, {Kind: Undone},
+	return []cat.Record{
+		{Kind: cat.All}, {Kind: cat.All, State: idleState()}, {Kind: cat.All, State: busyState()}, {Kind: cat.Fresh}, {Kind: cat.Fresh, Rows: []api.Row{nil, sample.List(sample.Int(1<<63-1), sample.Text("a\x00"), sample.Null(), api.Value{Type: 9, I: -1, S: "x"})}},
+		{Kind: cat.Flushed, N: 3}, {Kind: cat.Flushed, N: 1 << 50, Items: []api.Item{item(1, 2), {}}, More: []api.Item{{E: api.Extent{At: -1, N: -2}, Bytes: 1 << 60, Rows: -3, Part: 4}}},
+		{Kind: cat.Begun, Change: widen}, {Kind: cat.Begun, Change: all}, {Kind: cat.Moved}, {Kind: cat.Moved, Items: []api.Item{item(3, 4)}}, {Kind: cat.Cut}, {Kind: cat.Undone},
 	}
 }
 
@@ -42,12 +43,12 @@ func room(x reflect.Value) int {
 
 func TestPutTake(t *testing.T) {
 	for i, r := range records() {
-		b := Put(r)
+		b := cat.Put(r)
 		if len(b) == 0 || len(b) > room(reflect.ValueOf(r)) {
 			t.Errorf("%d: %d bytes", i, len(b))
 		}
-		got, e := Take(b)
-		if e != api.OK || string(Put(got)) != string(b) || got.Kind != r.Kind || !alike(got.State, r.State) || !reflect.DeepEqual(got.Change, r.Change) || len(got.Rows) != len(r.Rows) || !reflect.DeepEqual(got.Items, r.Items) || !reflect.DeepEqual(got.More, r.More) || got.N != r.N {
+		got, e := cat.Take(b)
+		if e != api.OK || string(cat.Put(got)) != string(b) || got.Kind != r.Kind || !alike(got.State, r.State) || !reflect.DeepEqual(got.Change, r.Change) || len(got.Rows) != len(r.Rows) || !reflect.DeepEqual(got.Items, r.Items) || !reflect.DeepEqual(got.More, r.More) || got.N != r.N {
 			t.Errorf("%d: %v: %v", i, e, got)
 		}
 		for k := range r.Rows {
@@ -55,7 +56,7 @@ func TestPutTake(t *testing.T) {
 				t.Errorf("%d: row %d: %v", i, k, got.Rows[k])
 			}
 		}
-		if r.Kind == All && len(r.State.Segs) > 0 && !reflect.DeepEqual(got.State, fresh.State(r.State)) {
+		if r.Kind == cat.All && len(r.State.Segs) > 0 && !reflect.DeepEqual(got.State, fresh.State(r.State)) {
 			t.Errorf("%d: %v", i, got.State)
 		}
 	}
@@ -64,21 +65,21 @@ func TestPutTake(t *testing.T) {
 func TestUnlikeRecordsUnlikeBytes(t *testing.T) {
 	seen := map[string]int{}
 	for i, r := range records() {
-		if k, ok := seen[string(Put(r))]; ok {
+		if k, ok := seen[string(cat.Put(r))]; ok {
 			t.Errorf("%d and %d have the same bytes", i, k)
 		}
-		seen[string(Put(r))] = i
+		seen[string(cat.Put(r))] = i
 	}
 }
 
 // TestShortRecords: what a commit writes is of few bytes.
 func TestShortRecords(t *testing.T) {
-	for kind, most := range map[int]int{Moved: 2 + 5*16, Cut: 16, Undone: 16} {
-		r := Record{Kind: kind}
-		if kind == Moved {
+	for kind, most := range map[int]int{cat.Moved: 2 + 5*16, cat.Cut: 16, cat.Undone: 16} {
+		r := cat.Record{Kind: kind}
+		if kind == cat.Moved {
 			r.Items = []api.Item{item(1<<20, 1<<20)}
 		}
-		if n := len(Put(r)); n == 0 || n > most {
+		if n := len(cat.Put(r)); n == 0 || n > most {
 			t.Errorf("kind %d: %d bytes", kind, n)
 		}
 	}
@@ -87,45 +88,60 @@ func TestShortRecords(t *testing.T) {
 func TestPutOfNone(t *testing.T) {
 	row := []api.Row{make(api.Row, 1)}
 	items := []api.Item{item(1, 1)}
-	for i, r := range []Record{
-		{}, {Kind: 8}, {Kind: -1}, {Kind: All, N: 1}, {Kind: All, Rows: row}, {Kind: All, Items: items}, {Kind: All, More: items}, {Kind: All, Change: widen}, {Kind: Fresh, Rows: row, N: 1}, {Kind: Fresh, Rows: row, Items: items},
-		{Kind: Flushed, N: 1, Rows: row}, {Kind: Flushed, N: 1, Change: widen}, {Kind: Begun, Change: widen, N: 1}, {Kind: Moved, More: items}, {Kind: Moved, N: 1}, {Kind: Cut, Items: items}, {Kind: Cut, N: 1}, {Kind: Undone, Change: widen},
-		{Kind: Cut, State: api.State{Version: 1}}, {Kind: Cut, State: api.State{Busy: true}}, {Kind: Cut, State: api.State{Buffer: row}}, {Kind: Cut, State: api.State{Segs: items}}, {Kind: Cut, State: api.State{Next: items}}, {Kind: Cut, State: api.State{Done: 1}}, {Kind: Cut, State: api.State{Layout: api.Layout{Enc: []int{0}}}}, {Kind: Cut, State: api.State{Schema: api.Schema{Last: 1}}}, {Kind: Cut, State: api.State{NextS: api.Schema{Last: 1}}}, {Kind: Cut, State: api.State{Change: widen}},
+	for i, r := range []cat.Record{
+		{}, {Kind: 8}, {Kind: -1}, {Kind: cat.All, N: 1}, {Kind: cat.All, Rows: row}, {Kind: cat.All, Items: items}, {Kind: cat.All, More: items}, {Kind: cat.All, Change: widen}, {Kind: cat.Fresh, Rows: row, N: 1}, {Kind: cat.Fresh, Rows: row, Items: items},
+		{Kind: cat.Flushed, N: 1, Rows: row}, {Kind: cat.Flushed, N: 1, Change: widen}, {Kind: cat.Begun, Change: widen, N: 1}, {Kind: cat.Moved, More: items}, {Kind: cat.Moved, N: 1}, {Kind: cat.Cut, Items: items}, {Kind: cat.Cut, N: 1}, {Kind: cat.Undone, Change: widen},
+		{Kind: cat.Cut, State: api.State{Version: 1}}, {Kind: cat.Cut, State: api.State{Busy: true}}, {Kind: cat.Cut, State: api.State{Buffer: row}}, {Kind: cat.Cut, State: api.State{Segs: items}}, {Kind: cat.Cut, State: api.State{Next: items}}, {Kind: cat.Cut, State: api.State{Done: 1}}, {Kind: cat.Cut, State: api.State{Layout: api.Layout{Enc: []int{0}}}}, {Kind: cat.Cut, State: api.State{Schema: api.Schema{Last: 1}}}, {Kind: cat.Cut, State: api.State{NextS: api.Schema{Last: 1}}}, {Kind: cat.Cut, State: api.State{Change: widen}},
 	} {
-		if b := Put(r); len(b) != 0 {
+		if b := cat.Put(r); len(b) != 0 {
 			t.Errorf("%d: %x", i, b)
 		}
 	}
-	if len(Put(Record{Kind: Cut, Rows: []api.Row{}, State: api.State{Segs: []api.Item{}}})) == 0 {
+	if len(cat.Put(cat.Record{Kind: cat.Cut, Rows: []api.Row{}, State: api.State{Segs: []api.Item{}}})) == 0 {
 		t.Error("nil and an empty list are one")
 	}
+}
+
+// exact tells whether b is not taken, or is taken as what is put so.
+func exact(b []byte) bool {
+	got, e := cat.Take(b)
+	if e == api.OK {
+		return string(cat.Put(got)) == string(b)
+	}
+	return e == api.EForm && reflect.DeepEqual(got, cat.Record{})
 }
 
 func TestTakeOfNone(t *testing.T) {
 	r := rand.New(rand.NewSource(8))
 	for i, rec := range records() {
-		b := Put(rec)
+		b := cat.Put(rec)
 		for k := range b {
-			if got, e := Take(b[:k]); e != api.EForm || !reflect.DeepEqual(got, Record{}) {
-				t.Errorf("%d: cut off at %d: %v", i, k, got)
+			if !exact(b[:k]) {
+				t.Errorf("%d: cut off at %d", i, k)
 			}
-		}
-		if _, e := Take(append(append([]byte{}, b...), 0)); e != api.EForm {
-			t.Errorf("%d: something behind it", i)
 		}
 		for range 3000 {
 			c := append([]byte{}, b...)
+			if !exact(append(c, byte(r.Intn(256)))) {
+				t.Fatalf("%d: something behind it", i)
+			}
 			c[r.Intn(len(c))] ^= byte(1 << r.Intn(8))
 			c[r.Intn(len(c))] = byte(r.Intn(256))
-			got, e := Take(c)
-			if e == api.OK && string(Put(got)) != string(c) || e != api.OK && (e != api.EForm || !reflect.DeepEqual(got, Record{})) {
-				t.Fatalf("%d: %x is taken as %v", i, c, got)
+			if !exact(c) {
+				t.Fatalf("%d: %x", i, c)
 			}
 		}
 	}
-	for _, b := range []string{"", "\x00", "\x10", "\x04\xff\xff\xff\xff\xff\xff\xff\xff\xff\x01", "\xff"} {
-		if _, e := Take([]byte(b)); e != api.EForm {
-			t.Errorf("%x is taken", b)
+	for range 100000 {
+		b := make([]byte, r.Intn(12))
+		for i := range b {
+			b[i] = byte(r.Intn(1 << r.Intn(9)))
 		}
+		if !exact(b) {
+			t.Fatalf("%x", b)
+		}
+	}
+	if _, e := cat.Take(nil); e != api.EForm {
+		t.Error("no bytes")
 	}
 }

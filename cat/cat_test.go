@@ -1,4 +1,4 @@
-package cat
+package cat_test
 
 import (
 	"reflect"
@@ -6,6 +6,7 @@ import (
 	"testing"
 
 	"rabbet/api"
+	"rabbet/cat"
 	"rabbet/fresh"
 	"rabbet/sample"
 	"rabbet/schema"
@@ -38,7 +39,7 @@ func busyState() api.State {
 }
 
 func TestMay(t *testing.T) {
-	if !May(idleState()) || !May(busyState()) || May(api.State{}) {
+	if !cat.May(idleState()) || !cat.May(busyState()) || cat.May(api.State{}) {
 		t.Fatal("the states that the tests begin with")
 	}
 	most := idleState()
@@ -50,18 +51,18 @@ func TestMay(t *testing.T) {
 	for range 32 {
 		most.Buffer = append(most.Buffer, make(api.Row, 2))
 	}
-	if !May(most) {
+	if !cat.May(most) {
 		t.Error("as much as may be")
 	}
 	most.Version = 0
-	if !May(most) {
+	if !cat.May(most) {
 		t.Error("version 0")
 	}
 	next := busyState()
 	for k := range 59 {
 		next.Next = append(next.Next, item(100+k, 1))
 	}
-	if !May(next) {
+	if !cat.May(next) {
 		t.Error("as many to come as may be")
 	}
 }
@@ -80,7 +81,7 @@ func TestMayNot(t *testing.T) {
 		},
 	} {
 		for _, s := range []api.State{idleState(), busyState()} {
-			if turn(&s); May(s) {
+			if turn(&s); cat.May(s) {
 				t.Errorf("%d (busy: %v) may be", i, s.Busy)
 			}
 		}
@@ -90,7 +91,7 @@ func TestMayNot(t *testing.T) {
 		func(s *api.State) { s.Todo = 1 }, func(s *api.State) { s.Done = 1 }, func(s *api.State) { s.Next = []api.Item{item(30, 1)} }, func(s *api.State) { s.Busy = true },
 	} {
 		s := idleState()
-		if turn(&s); May(s) {
+		if turn(&s); cat.May(s) {
 			t.Errorf("idle, %d may be", i)
 		}
 	}
@@ -104,17 +105,17 @@ func TestMayNot(t *testing.T) {
 		},
 	} {
 		s := busyState()
-		if turn(&s); May(s) {
+		if turn(&s); cat.May(s) {
 			t.Errorf("busy, %d may be", i)
 		}
 	}
 }
 
 func TestExtents(t *testing.T) {
-	if got := Extents(busyState()); !slices.Equal(got, []api.Extent{{At: 10, N: 2}, {At: 20, N: 1}, {At: 12, N: 3}}) {
+	if got := cat.Extents(busyState()); !slices.Equal(got, []api.Extent{{At: 10, N: 2}, {At: 20, N: 1}, {At: 12, N: 3}}) {
 		t.Errorf("%v", got)
 	}
-	if len(Extents(api.State{})) != 0 {
+	if len(cat.Extents(api.State{})) != 0 {
 		t.Error("of nothing")
 	}
 }
@@ -123,31 +124,31 @@ func TestApply(t *testing.T) {
 	row := sample.List(sample.Small(7), sample.Text("new"))
 	for i, x := range []struct {
 		s    api.State
-		r    Record
+		r    cat.Record
 		turn func(s *api.State)
 	}{
-		{api.State{}, Record{Kind: All, State: busyState()}, func(s *api.State) { *s = busyState() }},
-		{busyState(), Record{Kind: All, State: idleState()}, func(s *api.State) { *s = idleState() }},
-		{idleState(), Record{Kind: Fresh, Rows: []api.Row{row}}, func(s *api.State) { s.Buffer = append(s.Buffer, row) }},
-		{busyState(), Record{Kind: Fresh, Rows: []api.Row{row, row}}, func(s *api.State) { s.Buffer = append(s.Buffer, row, row) }},
-		{idleState(), Record{Kind: Flushed, N: 1}, func(s *api.State) { s.Buffer = s.Buffer[1:] }},
-		{idleState(), Record{Kind: Flushed, N: 2, Items: []api.Item{item(30, 1)}}, func(s *api.State) { s.Buffer, s.Segs = nil, append(s.Segs, item(30, 1)) }},
-		{busyState(), Record{Kind: Flushed, N: 2, Items: []api.Item{item(30, 1)}, More: []api.Item{item(40, 1), item(50, 1)}}, func(s *api.State) {
+		{api.State{}, cat.Record{Kind: cat.All, State: busyState()}, func(s *api.State) { *s = busyState() }},
+		{busyState(), cat.Record{Kind: cat.All, State: idleState()}, func(s *api.State) { *s = idleState() }},
+		{idleState(), cat.Record{Kind: cat.Fresh, Rows: []api.Row{row}}, func(s *api.State) { s.Buffer = append(s.Buffer, row) }},
+		{busyState(), cat.Record{Kind: cat.Fresh, Rows: []api.Row{row, row}}, func(s *api.State) { s.Buffer = append(s.Buffer, row, row) }},
+		{idleState(), cat.Record{Kind: cat.Flushed, N: 1}, func(s *api.State) { s.Buffer = s.Buffer[1:] }},
+		{idleState(), cat.Record{Kind: cat.Flushed, N: 2, Items: []api.Item{item(30, 1)}}, func(s *api.State) { s.Buffer, s.Segs = nil, append(s.Segs, item(30, 1)) }},
+		{busyState(), cat.Record{Kind: cat.Flushed, N: 2, Items: []api.Item{item(30, 1)}, More: []api.Item{item(40, 1), item(50, 1)}}, func(s *api.State) {
 			s.Buffer, s.Segs, s.Next = nil, append(s.Segs, item(30, 1)), append(s.Next, item(40, 1), item(50, 1))
 		}},
-		{idleState(), Record{Kind: Begun, Change: widen}, func(s *api.State) { *s = busyState(); s.Done, s.Next = 0, nil }},
-		{busyState(), Record{Kind: Moved, Items: []api.Item{item(30, 1)}}, func(s *api.State) { s.Done, s.Next = 2, append(s.Next, item(30, 1)) }},
-		{busyState(), Record{Kind: Moved}, func(s *api.State) { s.Done = 2 }},
-		{busyState(), Record{Kind: Undone}, func(s *api.State) { *s = idleState() }},
+		{idleState(), cat.Record{Kind: cat.Begun, Change: widen}, func(s *api.State) { *s = busyState(); s.Done, s.Next = 0, nil }},
+		{busyState(), cat.Record{Kind: cat.Moved, Items: []api.Item{item(30, 1)}}, func(s *api.State) { s.Done, s.Next = 2, append(s.Next, item(30, 1)) }},
+		{busyState(), cat.Record{Kind: cat.Moved}, func(s *api.State) { s.Done = 2 }},
+		{busyState(), cat.Record{Kind: cat.Undone}, func(s *api.State) { *s = idleState() }},
 	} {
 		want := fresh.State(x.s)
 		x.turn(&want)
 		was := fresh.State(x.s)
-		got, e := Apply(x.s, x.r)
+		got, e := cat.Apply(x.s, x.r)
 		if e != api.OK || !reflect.DeepEqual(fresh.State(got), fresh.State(want)) && !alike(got, want) {
 			t.Errorf("%d: %v\n%v\n%v", i, e, got, want)
 		}
-		if !reflect.DeepEqual(x.s, was) || !May(got) {
+		if !reflect.DeepEqual(x.s, was) || !cat.May(got) {
 			t.Errorf("%d: what was handed in is changed", i)
 		}
 	}
@@ -155,15 +156,15 @@ func TestApply(t *testing.T) {
 
 // alike tells whether both have the same bytes: nil and an empty list are one.
 func alike(a, b api.State) bool {
-	return string(Put(Record{Kind: All, State: a})) == string(Put(Record{Kind: All, State: b}))
+	return string(cat.Put(cat.Record{Kind: cat.All, State: a})) == string(cat.Put(cat.Record{Kind: cat.All, State: b}))
 }
 
 func TestCut(t *testing.T) {
 	s := busyState()
 	s.Done = 2
 	want := api.State{Version: 5, Schema: s.NextS, Layout: s.NextL, Segs: s.Next, Buffer: []api.Row{sample.List(sample.Int(1), sample.Text("x")), make(api.Row, 2)}}
-	got, e := Apply(s, Record{Kind: Cut})
-	if e != api.OK || !alike(got, want) || !May(got) {
+	got, e := cat.Apply(s, cat.Record{Kind: cat.Cut})
+	if e != api.OK || !alike(got, want) || !cat.May(got) {
 		t.Errorf("%v: %v", e, got)
 	}
 	got.Segs[0].Rows, got.Schema.Cols[0].ID, got.Layout.Enc[0] = 1, 9, 9
@@ -184,16 +185,16 @@ func TestApplyErrors(t *testing.T) {
 	lastBusy.Version = 200
 	for i, x := range []struct {
 		s api.State
-		r Record
+		r cat.Record
 	}{
-		{idleState(), Record{}}, {idleState(), Record{Kind: 8}}, {idleState(), Record{Kind: -1}}, {idleState(), Record{Kind: All}}, {idleState(), Record{Kind: Fresh}},
-		{idleState(), Record{Kind: Fresh, Rows: slices.Repeat([]api.Row{row}, 9)}}, {idleState(), Record{Kind: Fresh, Rows: []api.Row{row[:1]}}}, {full, Record{Kind: Fresh, Rows: []api.Row{row, row, row}}},
-		{idleState(), Record{Kind: Flushed}}, {idleState(), Record{Kind: Flushed, N: 3}}, {idleState(), Record{Kind: Flushed, N: -1}}, {idleState(), Record{Kind: Flushed, N: 1, More: []api.Item{item(30, 1)}}}, {idleState(), Record{Kind: Flushed, N: 1, Items: []api.Item{item(11, 1)}}}, {idleState(), Record{Kind: Flushed, N: 1, Items: []api.Item{{}}}},
-		{busyState(), Record{Kind: Begun, Change: widen}}, {last, Record{Kind: Begun, Change: widen}}, {idleState(), Record{Kind: Begun, Change: api.Change{Kind: api.Drop, Col: 2}}}, {idleState(), Record{Kind: Begun}},
-		{idleState(), Record{Kind: Moved}}, {done, Record{Kind: Moved}}, {busyState(), Record{Kind: Moved, Items: []api.Item{item(12, 1)}}}, {busyState(), Record{Kind: Cut}}, {idleState(), Record{Kind: Cut}}, {lastBusy, Record{Kind: Cut}}, {idleState(), Record{Kind: Undone}},
-		{busyState(), Record{Kind: Undone, N: 1}}, {busyState(), Record{Kind: Moved, More: []api.Item{item(30, 1)}}}, {idleState(), Record{Kind: Fresh, Rows: []api.Row{row}, State: api.State{Version: 1}}},
+		{idleState(), cat.Record{}}, {idleState(), cat.Record{Kind: 8}}, {idleState(), cat.Record{Kind: -1}}, {idleState(), cat.Record{Kind: cat.All}}, {idleState(), cat.Record{Kind: cat.Fresh}},
+		{idleState(), cat.Record{Kind: cat.Fresh, Rows: slices.Repeat([]api.Row{row}, 9)}}, {idleState(), cat.Record{Kind: cat.Fresh, Rows: []api.Row{row[:1]}}}, {full, cat.Record{Kind: cat.Fresh, Rows: []api.Row{row, row, row}}},
+		{idleState(), cat.Record{Kind: cat.Flushed}}, {idleState(), cat.Record{Kind: cat.Flushed, N: 3}}, {idleState(), cat.Record{Kind: cat.Flushed, N: -1}}, {idleState(), cat.Record{Kind: cat.Flushed, N: 1, More: []api.Item{item(30, 1)}}}, {idleState(), cat.Record{Kind: cat.Flushed, N: 1, Items: []api.Item{item(11, 1)}}}, {idleState(), cat.Record{Kind: cat.Flushed, N: 1, Items: []api.Item{{}}}},
+		{busyState(), cat.Record{Kind: cat.Begun, Change: widen}}, {last, cat.Record{Kind: cat.Begun, Change: widen}}, {idleState(), cat.Record{Kind: cat.Begun, Change: api.Change{Kind: api.Drop, Col: 2}}}, {idleState(), cat.Record{Kind: cat.Begun}},
+		{idleState(), cat.Record{Kind: cat.Moved}}, {done, cat.Record{Kind: cat.Moved}}, {busyState(), cat.Record{Kind: cat.Moved, Items: []api.Item{item(12, 1)}}}, {busyState(), cat.Record{Kind: cat.Cut}}, {idleState(), cat.Record{Kind: cat.Cut}}, {lastBusy, cat.Record{Kind: cat.Cut}}, {idleState(), cat.Record{Kind: cat.Undone}},
+		{busyState(), cat.Record{Kind: cat.Undone, N: 1}}, {busyState(), cat.Record{Kind: cat.Moved, More: []api.Item{item(30, 1)}}}, {idleState(), cat.Record{Kind: cat.Fresh, Rows: []api.Row{row}, State: api.State{Version: 1}}},
 	} {
-		if got, e := Apply(x.s, x.r); e != api.EForm || !reflect.DeepEqual(got, api.State{}) {
+		if got, e := cat.Apply(x.s, x.r); e != api.EForm || !reflect.DeepEqual(got, api.State{}) {
 			t.Errorf("%d: %v", i, e)
 		}
 	}
@@ -203,11 +204,11 @@ func TestApplyErrors(t *testing.T) {
 func TestBegunOfLast(t *testing.T) {
 	s := idleState()
 	s.Version, s.Segs = 199, nil
-	s, e := Apply(s, Record{Kind: Begun, Change: widen})
+	s, e := cat.Apply(s, cat.Record{Kind: cat.Begun, Change: widen})
 	if e != api.OK {
 		t.Fatal(e)
 	}
-	if s, e = Apply(s, Record{Kind: Cut}); e != api.OK || s.Version != 200 {
+	if s, e = cat.Apply(s, cat.Record{Kind: cat.Cut}); e != api.OK || s.Version != 200 {
 		t.Error(e)
 	}
 }

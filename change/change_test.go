@@ -1,10 +1,11 @@
-package change
+package change_test
 
 import (
 	"slices"
 	"testing"
 
 	"rabbet/api"
+	"rabbet/change"
 	"rabbet/sample"
 	"rabbet/schema"
 )
@@ -45,7 +46,7 @@ func TestRow(t *testing.T) {
 	} {
 		s, l := base()
 		was := slices.Clone(x.r)
-		got, ok := Row(s, x.c, x.r)
+		got, ok := change.Row(s, x.c, x.r)
 		if !ok || !slices.Equal(got, x.want) || !slices.Equal(x.r, was) {
 			t.Errorf("%d: %v, not %v", i, got, x.want)
 		}
@@ -68,10 +69,10 @@ func TestRowOfNone(t *testing.T) {
 		{api.Change{Kind: api.Drop, Col: 2}, good}, {api.Change{Kind: api.Widen, Col: 0}, good}, {api.Change{Kind: api.Split, Col: 9, Name: "d"}, good},
 		{api.Change{Kind: api.Redict}, good[:2]}, {api.Change{Kind: api.Add, Name: "d", Type: api.Int}, nil}, {api.Change{Kind: api.Redict}, sample.List(sample.Int(1), sample.Null(), sample.Null())},
 	} {
-		if r, ok := Row(s, x.c, x.r); ok || r != nil {
+		if r, ok := change.Row(s, x.c, x.r); ok || r != nil {
 			t.Errorf("%d: %v", i, r)
 		}
-		if rows, ok := Rows(s, x.c, []api.Row{x.r}); ok || rows != nil {
+		if rows, ok := change.Rows(s, x.c, []api.Row{x.r}); ok || rows != nil {
 			t.Errorf("%d: rows: %v", i, rows)
 		}
 	}
@@ -81,14 +82,14 @@ func TestRows(t *testing.T) {
 	s, _ := base()
 	drop := api.Change{Kind: api.Drop, Col: 1}
 	rows := []api.Row{sample.List(sample.Small(1), sample.Text("x"), sample.Bool(0)), make(api.Row, 3)}
-	got, ok := Rows(s, drop, rows)
+	got, ok := change.Rows(s, drop, rows)
 	if !ok || len(got) != 2 || !slices.Equal(got[0], sample.List(sample.Small(1), sample.Bool(0))) || !slices.Equal(got[1], make(api.Row, 2)) {
 		t.Errorf("%v %v", got, ok)
 	}
-	if got, ok := Rows(s, drop, append(rows, nil)); ok || got != nil {
+	if got, ok := change.Rows(s, drop, append(rows, nil)); ok || got != nil {
 		t.Error("one is none")
 	}
-	if got, ok := Rows(s, drop, nil); !ok || len(got) != 0 {
+	if got, ok := change.Rows(s, drop, nil); !ok || len(got) != 0 {
 		t.Error("no rows")
 	}
 }

@@ -1,13 +1,14 @@
-package delta
+package delta_test
 
 import (
 	"testing"
 
 	"rabbet/api"
+	"rabbet/delta"
 	"rabbet/sample"
 )
 
-var codec = sample.Codec{Put: Put, Take: Take}
+var codec = sample.Codec{Put: delta.Put, Take: delta.Take}
 
 func TestPutTake(t *testing.T) {
 	for _, fault := range codec.Good([]sample.Case{

@@ -1,23 +1,24 @@
-package dev
+package dev_test
 
 import (
 	"bytes"
 	"testing"
 
 	"rabbet/api"
+	"rabbet/dev"
 )
 
 func block(x byte) []byte { return bytes.Repeat([]byte{x}, api.Size) }
 
-func made(t *testing.T, n int) *Dev {
-	d, ok := New(n)
+func made(t *testing.T, n int) *dev.Dev {
+	d, ok := dev.New(n)
 	if !ok {
 		t.Fatal("no device")
 	}
 	return d
 }
 
-func is(t *testing.T, d *Dev, i int, want []byte) {
+func is(t *testing.T, d *dev.Dev, i int, want []byte) {
 	t.Helper()
 	if b, ok := d.Read(i); !ok || !bytes.Equal(b, want) {
 		t.Errorf("block %d: %x", i, b)
@@ -26,7 +27,7 @@ func is(t *testing.T, d *Dev, i int, want []byte) {
 
 func TestNew(t *testing.T) {
 	for n, want := range map[int]bool{-1: false, 0: false, 1: true, 4000: true, 4001: false} {
-		d, ok := New(n)
+		d, ok := dev.New(n)
 		if ok != want || (d != nil) != want || want && d.Blocks() != n {
 			t.Errorf("New(%d): %v", n, ok)
 		}
@@ -221,7 +222,7 @@ func TestCopy(t *testing.T) {
 }
 
 func TestNil(t *testing.T) {
-	var d *Dev
+	var d *dev.Dev
 	d.Flush()
 	d.Crash([]byte{1}, 0, 1)
 	d.Stop(1)

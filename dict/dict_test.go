@@ -1,14 +1,15 @@
-package dict
+package dict_test
 
 import (
 	"strings"
 	"testing"
 
 	"rabbet/api"
+	"rabbet/dict"
 	"rabbet/sample"
 )
 
-var codec = sample.Codec{Put: Put, Take: Take}
+var codec = sample.Codec{Put: dict.Put, Take: dict.Take}
 
 func TestPutTake(t *testing.T) {
 	for _, fault := range codec.Good([]sample.Case{

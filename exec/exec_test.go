@@ -1,4 +1,4 @@
-package exec
+package exec_test
 
 import (
 	"math"
@@ -7,6 +7,7 @@ import (
 
 	"rabbet/api"
 	"rabbet/batch"
+	"rabbet/exec"
 	"rabbet/sample"
 )
 
@@ -41,7 +42,7 @@ func column(l []api.Row) []api.Value {
 func TestCheckBounds(t *testing.T) {
 	key, agg := api.Key{Name: "n"}, api.Agg{Op: api.Count}
 	good := api.Query{Cols: slices.Repeat([]string{"n"}, 6), Aggs: slices.Repeat([]api.Agg{agg}, 4), Order: slices.Repeat([]api.Key{key}, 3), Limit: 1000}
-	if e := Check(cols, good); e != api.OK {
+	if e := exec.Check(cols, good); e != api.OK {
 		t.Errorf("as much as may be: %v", e)
 	}
 	for i, x := range []struct {
@@ -58,10 +59,10 @@ func TestCheckBounds(t *testing.T) {
 		{api.Query{Aggs: []api.Agg{{Op: api.Sum, Name: "t"}}}, api.EType}, {api.Query{Aggs: []api.Agg{{Op: api.Sum, Name: "b"}}}, api.EType}, {api.Query{Aggs: []api.Agg{{Op: api.Sum, Name: "s"}, {Op: api.Sum, Name: "n"}, {Op: api.Min, Name: "t"}, {Op: api.Max, Name: "b"}}}, api.OK},
 		{api.Query{Aggs: []api.Agg{{Op: api.Sum, Name: "t"}}, Order: []api.Key{{Name: "zz"}}}, api.ENone}, {api.Query{Aggs: []api.Agg{{Op: api.Sum, Name: "t"}}, Where: []api.Test{{Name: "zz", Op: 1}}}, api.ENone},
 	} {
-		if e := Check(cols, x.q); e != x.want {
+		if e := exec.Check(cols, x.q); e != x.want {
 			t.Errorf("%d: %v, not %v", i, e, x.want)
 		}
-		if got, e := Run(cols, table(), x.q); e != x.want || e != api.OK && got != nil {
+		if got, e := exec.Run(cols, table(), x.q); e != x.want || e != api.OK && got != nil {
 			t.Errorf("%d: Run: %v, not %v", i, e, x.want)
 		}
 	}
@@ -72,11 +73,11 @@ func TestAllRows(t *testing.T) {
 	for _, b := range table() {
 		want = append(want, batch.Rows(b)...)
 	}
-	got, e := Run(cols, table(), api.Query{})
+	got, e := exec.Run(cols, table(), api.Query{})
 	if e != api.OK || !batch.SameRows(got, want) {
 		t.Errorf("%v %v", e, got)
 	}
-	if got, e := Run(cols, nil, api.Query{}); e != api.OK || len(got) != 0 {
+	if got, e := exec.Run(cols, nil, api.Query{}); e != api.OK || len(got) != 0 {
 		t.Errorf("of no rows: %v %v", e, got)
 	}
 }
@@ -96,12 +97,12 @@ func TestRows(t *testing.T) {
 		{api.Query{Order: []api.Key{{Name: "n"}}, Cols: []string{"s", "s"}, Limit: 1000}, sample.Smalls(4, 2, 5, 3, 1)},
 		{api.Query{Where: []api.Test{{Name: "t", Op: api.Null}}}, nil},
 	} {
-		got, e := Run(cols, table(), x.q)
+		got, e := exec.Run(cols, table(), x.q)
 		if e != api.OK || !slices.Equal(column(got), x.want) {
 			t.Errorf("%d: %v %v", i, e, got)
 		}
 	}
-	got, _ := Run(cols, table(), api.Query{Cols: []string{"s", "t", "s"}, Limit: 1})
+	got, _ := exec.Run(cols, table(), api.Query{Cols: []string{"s", "t", "s"}, Limit: 1})
 	if !batch.SameRows(got, rows(sample.List(sample.Small(1), sample.Text("x"), sample.Small(1)))) {
 		t.Errorf("columns in that order: %v", got)
 	}
@@ -123,12 +124,12 @@ func TestGroups(t *testing.T) {
 		{api.Query{Aggs: aggs[:2], Where: []api.Test{{Name: "t", Op: api.Null}}}, rows(sample.List(i(0), sample.Null()))},
 		{api.Query{Aggs: aggs[:2], Cols: []string{"t"}, Where: []api.Test{{Name: "t", Op: api.Null}}}, nil},
 	} {
-		got, e := Run(cols, table(), q.q)
+		got, e := exec.Run(cols, table(), q.q)
 		if e != api.OK || !batch.SameRows(got, q.want) {
 			t.Errorf("%d: %v %v", k, e, got)
 		}
 	}
-	if got, e := Run(cols, nil, api.Query{Aggs: aggs[:1]}); e != api.OK || !batch.SameRows(got, rows(sample.List(i(0)))) {
+	if got, e := exec.Run(cols, nil, api.Query{Aggs: aggs[:1]}); e != api.OK || !batch.SameRows(got, rows(sample.List(i(0)))) {
 		t.Errorf("of no batches: %v %v", e, got)
 	}
 }
@@ -136,7 +137,7 @@ func TestGroups(t *testing.T) {
 // TestWideGroups: six columns and four aggregates of them.
 func TestWideGroups(t *testing.T) {
 	q := api.Query{Cols: []string{"n", "t", "b", "s", "n", "t"}, Aggs: slices.Repeat([]api.Agg{{Op: api.Count}}, 4), Order: []api.Key{{Name: "s", Down: true}}}
-	got, e := Run(cols, table(), q)
+	got, e := exec.Run(cols, table(), q)
 	if e != api.OK || len(got) != 5 || len(got[0]) != 10 || got[0][3] != sample.Small(5) {
 		t.Errorf("%v %v", e, got)
 	}
@@ -144,7 +145,7 @@ func TestWideGroups(t *testing.T) {
 
 func TestSumOver(t *testing.T) {
 	b := [][][]api.Value{{sample.Ints(math.MaxInt64, 1), sample.Texts("", ""), sample.Bools(0, 0), sample.Smalls(0, 0)}}
-	if got, e := Run(cols, b, api.Query{Aggs: []api.Agg{{Op: api.Sum, Name: "n"}}}); e != api.EOver || got != nil {
+	if got, e := exec.Run(cols, b, api.Query{Aggs: []api.Agg{{Op: api.Sum, Name: "n"}}}); e != api.EOver || got != nil {
 		t.Errorf("%v %v", e, got)
 	}
 }
@@ -160,8 +161,8 @@ func TestHoweverRowsLie(t *testing.T) {
 		one = append(one, l)
 	}
 	for _, q := range []api.Query{{}, {Order: []api.Key{{Name: "n"}}, Limit: 3}, {Cols: []string{"t"}, Aggs: []api.Agg{{Op: api.Min, Name: "n"}}}} {
-		a, _ := Run(cols, table(), q)
-		b, e := Run(cols, [][][]api.Value{one}, q)
+		a, _ := exec.Run(cols, table(), q)
+		b, e := exec.Run(cols, [][][]api.Value{one}, q)
 		if e != api.OK || !batch.SameRows(a, b) {
 			t.Errorf("%v: %v, %v", q, a, b)
 		}
@@ -170,9 +171,9 @@ func TestHoweverRowsLie(t *testing.T) {
 
 func TestNewMemory(t *testing.T) {
 	b := table()
-	got, _ := Run(cols, b, api.Query{Order: []api.Key{{Name: "n"}}})
+	got, _ := exec.Run(cols, b, api.Query{Order: []api.Key{{Name: "n"}}})
 	got[0][0], got[1][1] = sample.Int(9), sample.Text("q")
-	again, _ := Run(cols, b, api.Query{Order: []api.Key{{Name: "n"}}})
+	again, _ := exec.Run(cols, b, api.Query{Order: []api.Key{{Name: "n"}}})
 	if again[0][0] != sample.Null() || again[1][1] != sample.Text("y") {
 		t.Error("memory is shared")
 	}
@@ -182,7 +183,7 @@ func TestNewMemory(t *testing.T) {
 func TestWhatDoesNotFit(t *testing.T) {
 	for _, q := range []api.Query{{}, {Order: []api.Key{{Name: "s"}}}, {Aggs: []api.Agg{{Op: api.Sum, Name: "n"}}, Cols: []string{"b"}}} {
 		for _, b := range [][][]api.Value{nil, {sample.Ints(1)}, {sample.Texts("a"), nil}, {nil, nil, nil, nil, sample.Ints(1), sample.Ints(1)}, {sample.Texts("a"), sample.Ints(1), sample.Ints(1), sample.Ints(1), sample.Ints(1)}} {
-			Run(cols, [][][]api.Value{b}, q)
+			exec.Run(cols, [][][]api.Value{b}, q)
 		}
 	}
 }

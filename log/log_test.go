@@ -1,4 +1,4 @@
-package log
+package log_test
 
 import (
 	"bytes"
@@ -8,6 +8,7 @@ import (
 
 	"rabbet/api"
 	"rabbet/dev"
+	"rabbet/log"
 	"rabbet/tag"
 )
 
@@ -29,12 +30,12 @@ func same(a, b [][]byte) bool {
 }
 
 // opened is a log that was made of these records, and opened.
-func opened(t *testing.T, d *dev.Dev, area int, first ...string) *Log {
+func opened(t *testing.T, d *dev.Dev, area int, first ...string) *log.Log {
 	t.Helper()
-	if e := Make(d, area, recs(first...)); e != api.OK {
+	if e := log.Make(d, area, recs(first...)); e != api.OK {
 		t.Fatalf("Make: %v", e)
 	}
-	l, got, e := Open(d, area)
+	l, got, e := log.Open(d, area)
 	if e != api.OK || !same(got, recs(first...)) {
 		t.Fatalf("Open: %q %v", got, e)
 	}
@@ -51,7 +52,7 @@ func lies(t *testing.T, d *dev.Dev, i int, gen, seq uint32, load string) {
 }
 
 func TestSize(t *testing.T) {
-	if Size(1) != 4 || Size(1000) != 2002 || Size(0) != 2 {
+	if log.Size(1) != 4 || log.Size(1000) != 2002 || log.Size(0) != 2 {
 		t.Error("Size")
 	}
 }
@@ -59,7 +60,7 @@ func TestSize(t *testing.T) {
 func TestLayout(t *testing.T) {
 	long := strings.Repeat("x", 106) + "yz"
 	d := device(12)
-	if e := Make(d, 5, recs("ab", long, "")); e != api.OK {
+	if e := log.Make(d, 5, recs("ab", long, "")); e != api.OK {
 		t.Fatal(e)
 	}
 	if d.Writes() != 5+4+1 {
@@ -73,7 +74,7 @@ func TestLayout(t *testing.T) {
 	if b, _ := d.Read(11); !bytes.Equal(b, make([]byte, api.Size)) {
 		t.Error("the rest is noughts")
 	}
-	l, got, e := Open(d, 5)
+	l, got, e := log.Open(d, 5)
 	if e != api.OK || !same(got, recs("ab", long, "")) || l.Gen() != 2 || l.Room() != 1 {
 		t.Fatalf("Open: %q %v", got, e)
 	}
@@ -97,24 +98,24 @@ func TestMakeErrors(t *testing.T) {
 		{nil, 1, nil, api.EArg}, {device(12), 0, nil, api.EArg}, {device(12), -1, nil, api.EArg}, {device(11), 5, nil, api.EArg}, {device(4000), 1001, nil, api.EArg}, {device(12), 1 << 62, nil, api.EArg},
 		{device(2002), 1000, [][]byte{make([]byte, 65537)}, api.EArg}, {device(12), 5, [][]byte{make([]byte, 60000), make([]byte, 65537)}, api.EArg}, {device(12), 5, recs("", "", "", "", "", ""), api.EFull}, {device(12), 5, [][]byte{make([]byte, 547)}, api.EFull},
 	} {
-		if e := Make(x.d, x.area, x.first); e != x.want {
+		if e := log.Make(x.d, x.area, x.first); e != x.want {
 			t.Errorf("%d: %v", i, e)
 		}
 		if x.d.Writes() != 0 {
 			t.Errorf("%d: something is written", i)
 		}
-		if l, got, e := Open(x.d, x.area); l != nil || got != nil || e != x.want && e != api.EForm || e == api.EFull {
+		if l, got, e := log.Open(x.d, x.area); l != nil || got != nil || e != x.want && e != api.EForm || e == api.EFull {
 			t.Errorf("%d: Open: %v", i, e)
 		}
 	}
-	if e := Make(device(12), 5, [][]byte{make([]byte, 546)}); e != api.OK {
+	if e := log.Make(device(12), 5, [][]byte{make([]byte, 546)}); e != api.OK {
 		t.Errorf("just as much as there is room for: %v", e)
 	}
 	d := device(2002)
-	if e := Make(d, 1000, [][]byte{bytes.Repeat([]byte{5}, 65536)}); e != api.OK {
+	if e := log.Make(d, 1000, [][]byte{bytes.Repeat([]byte{5}, 65536)}); e != api.OK {
 		t.Errorf("the longest record: %v", e)
 	}
-	if _, got, e := Open(d, 1000); e != api.OK || len(got) != 1 || len(got[0]) != 65536 || got[0][65535] != 5 {
+	if _, got, e := log.Open(d, 1000); e != api.OK || len(got) != 1 || len(got[0]) != 65536 || got[0][65535] != 5 {
 		t.Errorf("the longest record: %v", e)
 	}
 }
@@ -127,10 +128,10 @@ func TestJustBlocks(t *testing.T) {
 		for i, n := range m {
 			r = append(r, bytes.Repeat([]byte{byte('a' + i)}, n))
 		}
-		if e := Make(d, 3, r); e != api.OK {
+		if e := log.Make(d, 3, r); e != api.OK {
 			t.Fatalf("%v: %v", m, e)
 		}
-		if _, got, e := Open(d, 3); e != api.OK || !same(got, r) {
+		if _, got, e := log.Open(d, 3); e != api.OK || !same(got, r) {
 			t.Errorf("%v: %q %v", m, got, e)
 		}
 	}
@@ -143,7 +144,7 @@ func TestTooLong(t *testing.T) {
 		want int
 	}{{65536, 2}, {65537, 1}} {
 		d := device(2002)
-		if e := Make(d, 1000, recs("a")); e != api.OK {
+		if e := log.Make(d, 1000, recs("a")); e != api.OK {
 			t.Fatal(e)
 		}
 		text := append([]byte{0, byte(x.m >> 16), byte(x.m >> 8), byte(x.m)}, make([]byte, x.m)...)
@@ -153,7 +154,7 @@ func TestTooLong(t *testing.T) {
 			d.Write(1002+int(seq), b)
 			text = text[n:]
 		}
-		if _, got, e := Open(d, 1000); e != api.OK || len(got) != x.want {
+		if _, got, e := log.Open(d, 1000); e != api.OK || len(got) != x.want {
 			t.Errorf("%d bytes: %d records, %v", x.m, len(got), e)
 		}
 	}
@@ -171,7 +172,7 @@ func TestNoughtsAreSure(t *testing.T) {
 			t.Errorf("block %d: %x", i, b)
 		}
 	}
-	if _, got, e := Open(d, 3); e != api.OK || !same(got, recs("a", "b", "c")) {
+	if _, got, e := log.Open(d, 3); e != api.OK || !same(got, recs("a", "b", "c")) {
 		t.Errorf("%q %v", got, e)
 	}
 }
@@ -203,7 +204,7 @@ func TestAppendErrors(t *testing.T) {
 	if e := l.Anew(nil); e != api.OK || l.Room() != 3 || l.Gen() != 3 {
 		t.Errorf("Anew: %v", e)
 	}
-	if _, got, e := Open(d, 3); e != api.OK || len(got) != 0 {
+	if _, got, e := log.Open(d, 3); e != api.OK || len(got) != 0 {
 		t.Errorf("%q %v", got, e)
 	}
 }
@@ -219,20 +220,20 @@ func TestOpenOfNone(t *testing.T) {
 	}{{0, 0}, {0, 1}, {1, 2}, {1, 1<<32 - 1}, {1, 0}} {
 		d := device(4)
 		d.Write(x.at, slot(x.gen))
-		if l, got, e := Open(d, 1); l != nil || got != nil || e != api.EForm || d.Writes() != 1 {
+		if l, got, e := log.Open(d, 1); l != nil || got != nil || e != api.EForm || d.Writes() != 1 {
 			t.Errorf("%d: %v", i, e)
 		}
 	}
 	d := device(4)
 	d.Write(0, slot(1<<32-2))
 	d.Write(1, slot(77))
-	if l, got, e := Open(d, 1); len(got) != 0 || e != api.OK || l.Gen() != 1<<32-1 {
+	if l, got, e := log.Open(d, 1); len(got) != 0 || e != api.OK || l.Gen() != 1<<32-1 {
 		t.Errorf("the greatest: %v", e)
 	}
 	other, _ := tag.Put(3, 0, nil)
 	d = device(4)
 	d.Write(1, other)
-	if _, _, e := Open(d, 1); e != api.EForm {
+	if _, _, e := log.Open(d, 1); e != api.EForm {
 		t.Errorf("a block that is no slot: %v", e)
 	}
 }
@@ -255,19 +256,19 @@ func TestNotWhole(t *testing.T) {
 		{13, put(1, 4, "\x00\x00\x00\x00"), 4}, {13, put(1, 4, ""), 3}, {13, put(1, 4, "\x00\x00\x00\x80"+long[:106]), 3}, {15, put(1, 6, "\x00\x00\x00\x01q"), 3},
 	} {
 		d := device(16)
-		if Make(d, 7, recs("a", long, "c")) != api.OK {
+		if log.Make(d, 7, recs("a", long, "c")) != api.OK {
 			t.Fatal("Make")
 		}
 		d.Write(x.at, x.b)
 		d.Flush()
-		l, got, e := Open(d, 7)
+		l, got, e := log.Open(d, 7)
 		if e != api.OK || len(got) != x.want {
 			t.Fatalf("%d: %q %v", i, got, e)
 		}
 		if l.Append([]byte("more")) != api.OK {
 			t.Fatal("Append")
 		}
-		if _, again, _ := Open(d, 7); !same(again, append(got, []byte("more"))) {
+		if _, again, _ := log.Open(d, 7); !same(again, append(got, []byte("more"))) {
 			t.Errorf("%d: again: %q", i, again)
 		}
 	}
@@ -305,11 +306,11 @@ func crash(t *testing.T, stop int, keep []byte, torn, at int, long string) {
 		done = i + 1
 	}
 	d.Crash(keep, torn, at)
-	_, got, e := Open(d, 5)
+	_, got, e := log.Open(d, 5)
 	if e != api.OK || !same(got, recs(states[done]...)) && (done == 4 || !same(got, recs(states[done+1]...))) {
 		t.Fatalf("stopped behind %d (keep %x, torn %d, at %d): %q %v", stop, keep, torn, at, got, e)
 	}
-	if _, again, e := Open(d, 5); e != api.OK || !same(again, got) {
+	if _, again, e := log.Open(d, 5); e != api.OK || !same(again, got) {
 		t.Fatalf("opened again: %q", again)
 	}
 }
@@ -320,9 +321,9 @@ func TestCrashInOpen(t *testing.T) {
 		l := opened(t, d, 5, "a")
 		l.Append([]byte("b"))
 		d.Stop(stop)
-		Open(d, 5)
+		log.Open(d, 5)
 		d.Crash([]byte{0x5a, 0x33}, stop%4, 33)
-		if _, got, e := Open(d, 5); e != api.OK || !same(got, recs("a", "b")) {
+		if _, got, e := log.Open(d, 5); e != api.OK || !same(got, recs("a", "b")) {
 			t.Errorf("%d: %q %v", stop, got, e)
 		}
 	}
@@ -334,19 +335,19 @@ func TestNewMemory(t *testing.T) {
 	r := []byte("def")
 	l.Append(r)
 	r[0] = 'z'
-	_, got, _ := Open(d, 5)
+	_, got, _ := log.Open(d, 5)
 	got[0][0] = 'z'
-	if _, again, _ := Open(d, 5); !same(again, recs("abc", "def")) {
+	if _, again, _ := log.Open(d, 5); !same(again, recs("abc", "def")) {
 		t.Errorf("%q", again)
 	}
 }
 
 func TestNil(t *testing.T) {
-	var l *Log
+	var l *log.Log
 	if l.Append(nil) != api.EArg || l.Anew(nil) != api.EArg || l.Room() != 0 || l.Gen() != 0 {
 		t.Error("of a nil Log")
 	}
-	if l, got, e := Open(nil, 1); l != nil || got != nil || e != api.EArg {
+	if l, got, e := log.Open(nil, 1); l != nil || got != nil || e != api.EArg {
 		t.Error("of a nil Dev")
 	}
 }

@@ -1,13 +1,14 @@
-package pack
+package pack_test
 
 import (
 	"testing"
 
 	"rabbet/api"
+	"rabbet/pack"
 	"rabbet/sample"
 )
 
-var codec = sample.Codec{Put: Put, Take: Take}
+var codec = sample.Codec{Put: pack.Put, Take: pack.Take}
 
 func TestPutTake(t *testing.T) {
 	for _, fault := range codec.Good([]sample.Case{

@@ -1,4 +1,4 @@
-package part
+package part_test
 
 import (
 	"hash/fnv"
@@ -6,6 +6,7 @@ import (
 	"testing"
 
 	"rabbet/api"
+	"rabbet/part"
 	"rabbet/sample"
 )
 
@@ -24,17 +25,17 @@ func TestOf(t *testing.T) {
 		{sample.Text(""), "\x02"}, {sample.Text("ab"), "\x02ab"}, {api.Value{Type: 9, I: 7, S: "a"}, "\x01\x00\x00\x00\x00\x00\x00\x00\x07"}, {api.Value{Type: -1, I: 7}, "\x01\x00\x00\x00\x00\x00\x00\x00\x07"},
 	} {
 		for _, n := range []int{2, 3, 4, 7, 1000003} {
-			if Of(x.v, n) != of(x.b, n) {
-				t.Errorf("Of(%v, %d): %d", x.v, n, Of(x.v, n))
+			if part.Of(x.v, n) != of(x.b, n) {
+				t.Errorf("Of(%v, %d): %d", x.v, n, part.Of(x.v, n))
 			}
 		}
 		for _, n := range []int{1, 0, -1, -1 << 63} {
-			if Of(x.v, n) != 0 {
-				t.Errorf("Of(%v, %d): %d", x.v, n, Of(x.v, n))
+			if part.Of(x.v, n) != 0 {
+				t.Errorf("Of(%v, %d): %d", x.v, n, part.Of(x.v, n))
 			}
 		}
 	}
-	if Of(sample.Text("a"), 1<<40) != of("\x02a", 1<<32-1) {
+	if part.Of(sample.Text("a"), 1<<40) != of("\x02a", 1<<32-1) {
 		t.Error("of very many parts")
 	}
 }
@@ -42,7 +43,7 @@ func TestOf(t *testing.T) {
 func TestApart(t *testing.T) {
 	cols := [][]api.Value{sample.Ints(1, 2, 3, 4, 5, 6, 7, 8), sample.Texts("a", "b", "a", "c", "d", "a", "e", "f")}
 	for _, n := range []int{2, 3, 4, 5, 100} {
-		got := Apart(cols, 1, n)
+		got := part.Apart(cols, 1, n)
 		if len(got) != min(n, api.MaxParts) {
 			t.Fatalf("%d parts of %d", len(got), n)
 		}
@@ -50,7 +51,7 @@ func TestApart(t *testing.T) {
 		for p, places := range got {
 			all += len(places)
 			for k, i := range places {
-				if Of(cols[1][i], len(got)) != p || k > 0 && places[k-1] >= i {
+				if part.Of(cols[1][i], len(got)) != p || k > 0 && places[k-1] >= i {
 					t.Errorf("%d parts: %v", n, got)
 				}
 			}
@@ -62,7 +63,7 @@ func TestApart(t *testing.T) {
 }
 
 func TestApartByTheFirst(t *testing.T) {
-	got := Apart([][]api.Value{sample.Texts("a", "b", "c", "d", "e", "f")}, 0, 2)
+	got := part.Apart([][]api.Value{sample.Texts("a", "b", "c", "d", "e", "f")}, 0, 2)
 	if len(got) != 2 || len(got[0]) == 0 || len(got[1]) == 0 {
 		t.Errorf("%v", got)
 	}
@@ -71,12 +72,12 @@ func TestApartByTheFirst(t *testing.T) {
 func TestNotApart(t *testing.T) {
 	cols := [][]api.Value{sample.Ints(1, 2, 3), sample.Ints(1, 2, 3, 4)}
 	for _, x := range []struct{ at, n int }{{0, 1}, {0, 0}, {0, -3}, {2, 4}, {-1, 4}} {
-		got := Apart(cols, x.at, x.n)
+		got := part.Apart(cols, x.at, x.n)
 		if len(got) != 1 || !slices.Equal(got[0], []int{0, 1, 2}) {
 			t.Errorf("Apart(%d, %d): %v", x.at, x.n, got)
 		}
 	}
-	if got := Apart(nil, 0, 4); len(got) != 1 || len(got[0]) != 0 {
+	if got := part.Apart(nil, 0, 4); len(got) != 1 || len(got[0]) != 0 {
 		t.Errorf("of no columns: %v", got)
 	}
 }

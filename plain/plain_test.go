@@ -1,14 +1,15 @@
-package plain
+package plain_test
 
 import (
 	"strings"
 	"testing"
 
 	"rabbet/api"
+	"rabbet/plain"
 	"rabbet/sample"
 )
 
-var codec = sample.Codec{Put: Put, Take: Take}
+var codec = sample.Codec{Put: plain.Put, Take: plain.Take}
 
 func TestPutTake(t *testing.T) {
 	for _, fault := range codec.Good([]sample.Case{

@@ -1,4 +1,4 @@
-package play
+package play_test
 
 import (
 	"math/rand"
@@ -10,6 +10,7 @@ import (
 	"rabbet/api"
 	"rabbet/batch"
 	"rabbet/model"
+	"rabbet/play"
 	"rabbet/sample"
 )
 
@@ -53,26 +54,26 @@ func TestSaid(t *testing.T) {
 	var all []api.Step
 	bytes := ""
 	for i, x := range said {
-		if got := Encode(x.s); string(got) != x.b {
+		if got := play.Encode(x.s); string(got) != x.b {
 			t.Errorf("%d: %x", i, got)
 		}
-		if got := Decode([]byte(x.b)); !same(got, []api.Step{x.s}) {
+		if got := play.Decode([]byte(x.b)); !same(got, []api.Step{x.s}) {
 			t.Errorf("%d: %v", i, got)
 		}
 		for k := range x.b {
-			if got := Decode([]byte(x.b[:k])); len(got) != 0 {
+			if got := play.Decode([]byte(x.b[:k])); len(got) != 0 {
 				t.Errorf("%d: cut off at %d: %v", i, k, got)
 			}
-			if got := Decode([]byte("\x04" + x.b[:k])); len(got) != 1 {
+			if got := play.Decode([]byte("\x04" + x.b[:k])); len(got) != 1 {
 				t.Errorf("%d: cut off at %d, behind another: %v", i, k, got)
 			}
 		}
 		all, bytes = append(all, x.s), bytes+x.b
 	}
-	if string(Encode(all...)) != bytes || !same(Decode([]byte(bytes)), all) {
+	if string(play.Encode(all...)) != bytes || !same(play.Decode([]byte(bytes)), all) {
 		t.Error("one behind the other")
 	}
-	if len(Encode()) != 0 || len(Decode(nil)) != 0 {
+	if len(play.Encode()) != 0 || len(play.Decode(nil)) != 0 {
 		t.Error("of nothing")
 	}
 }
@@ -91,7 +92,7 @@ func TestOtherBytes(t *testing.T) {
 		{"\x01\x02\x00\x00\x00\x01\x00\xff\x00\x00", []api.Step{ask(api.Request{Kind: api.AskQuery, Query: api.Query{Order: []api.Key{{Down: true}}}})}},
 		{"\x04\x01\x01\x01\x01\x05\x04\x04", []api.Step{open}}, {"\x04\x01\x01\x01\x01\x03\x02\x04", []api.Step{open}}, {"\x01\x03\x01\x00\x00\x00\x00\x07\x00\x00\x00\x04", nil}, {"\x04\x03\x00", []api.Step{open}}, {"\x04\x01", []api.Step{open}},
 	} {
-		if got := Decode([]byte(x.b)); !same(got, x.want) {
+		if got := play.Decode([]byte(x.b)); !same(got, x.want) {
 			t.Errorf("%d: %v", i, got)
 		}
 	}
@@ -120,12 +121,12 @@ func TestLeftOut(t *testing.T) {
 		change(api.Change{Kind: 256}), change(api.Change{Kind: -1}), change(api.Change{Col: -1}), change(api.Change{Col: 65536}), change(api.Change{Name: long}), change(api.Change{Type: 256}), change(api.Change{Value: api.Value{S: "a"}}), change(api.Change{N: -1}), change(api.Change{N: 65536}),
 	} {
 		open := api.Step{Kind: api.StepOpen}
-		if got := Encode(open, s, open); string(got) != "\x04\x04" {
+		if got := play.Encode(open, s, open); string(got) != "\x04\x04" {
 			t.Errorf("%d: %x", i, got)
 		}
 	}
 	most := []api.Step{{Kind: api.StepCrash, Keep: []byte(long[:255]), Torn: -1}, insert(make([]api.Row, 9)...), insert(make(api.Row, 7)), asked(api.Query{Cols: make([]string, 7), Where: make([]api.Test, 9), Aggs: make([]api.Agg, 5), Order: make([]api.Key, 4), Limit: 65535}), change(api.Change{Kind: 255, Col: 65535, Name: long[:255], Type: 255, N: 65535, Sep: 255})}
-	if got := Decode(Encode(most...)); !same(got, most) {
+	if got := play.Decode(play.Encode(most...)); !same(got, most) {
 		t.Errorf("as much as may be said: %v", got)
 	}
 }
@@ -142,9 +143,9 @@ func TestWhateverBytes(t *testing.T) {
 				b[i] = byte(r.Intn(6))
 			}
 		}
-		l := Decode(b)
+		l := play.Decode(b)
 		steps += len(l)
-		if again := Decode(Encode(l...)); !same(again, l) {
+		if again := play.Decode(play.Encode(l...)); !same(again, l) {
 			t.Fatalf("%x: %v, %v", b, l, again)
 		}
 	}
@@ -163,7 +164,7 @@ func TestRun(t *testing.T) {
 	row := sample.List(sample.Int(1), sample.Text("a"))
 	all := ask(api.Request{Kind: api.AskQuery})
 	steps := []api.Step{all, ask(api.Request{Kind: api.AskInsert, Rows: []api.Row{row}}), {Kind: api.StepStop}, ask(api.Request{Kind: api.AskInsert, Rows: []api.Row{row}}), {Kind: api.StepCrash, Torn: -1}, all, {Kind: 7}, ask(api.Request{Kind: api.AskStep}), {Kind: api.StepOpen}, all}
-	tr, told, e := Run(300, 30, s, l, steps...)
+	tr, told, e := play.Run(300, 30, s, l, steps...)
 	if e != api.OK || tr == nil || tr.Desk() == nil || len(told) != len(steps) {
 		t.Fatalf("%v: %v", e, told)
 	}
@@ -172,14 +173,14 @@ func TestRun(t *testing.T) {
 			t.Errorf("%d: %v", i, told[i])
 		}
 	}
-	if tr, told, e := Run(300, 30, s, l); e != api.OK || tr == nil || len(told) != 0 {
+	if tr, told, e := play.Run(300, 30, s, l); e != api.OK || tr == nil || len(told) != 0 {
 		t.Errorf("no steps: %v", e)
 	}
 	for i, x := range []struct {
 		blocks, area int
 		s            api.Schema
 	}{{0, 30, s}, {300, 0, s}, {300, 30, api.Schema{}}} {
-		if tr, told, e := Run(x.blocks, x.area, x.s, l, all); e != api.EArg || tr != nil || told != nil {
+		if tr, told, e := play.Run(x.blocks, x.area, x.s, l, all); e != api.EArg || tr != nil || told != nil {
 			t.Errorf("%d: %v", i, e)
 		}
 	}
@@ -204,12 +205,12 @@ func TestRunsAreSame(t *testing.T) {
 				steps = append(steps, ask(req))
 			}
 		}
-		said := Decode(Encode(steps...))
+		said := play.Decode(play.Encode(steps...))
 		if !same(said, steps) {
 			t.Fatalf("%v", said)
 		}
-		_, a, _ := Run(300, 30, s, l, steps...)
-		_, b, e := Run(300, 30, s, l, said...)
+		_, a, _ := play.Run(300, 30, s, l, steps...)
+		_, b, e := play.Run(300, 30, s, l, said...)
 		if e != api.OK || !reflect.DeepEqual(a, b) {
 			t.Fatalf("%v", e)
 		}

@@ -1,4 +1,4 @@
-package pred
+package pred_test
 
 import (
 	"math/rand"
@@ -6,6 +6,7 @@ import (
 	"testing"
 
 	"rabbet/api"
+	"rabbet/pred"
 	"rabbet/sample"
 	"rabbet/zone"
 )
@@ -40,7 +41,7 @@ func TestCheck(t *testing.T) {
 		{[]api.Test{test("n", api.Equal, sample.Text("")), test("z", api.Equal, sample.Int(1))}, api.EType},
 		{[]api.Test{test("z", api.Equal, sample.Text("")), test("n", api.Equal, sample.Text(""))}, api.ENone},
 	} {
-		if e := Check(cols, x.l); e != x.want {
+		if e := pred.Check(cols, x.l); e != x.want {
 			t.Errorf("%d: %v, not %v", i, e, x.want)
 		}
 	}
@@ -57,18 +58,18 @@ func TestOneTest(t *testing.T) {
 	} {
 		for i, v := range []api.Value{sample.Null(), sample.Int(4), sample.Int(5), sample.Int(6)} {
 			one := test("n", x.op, sample.Int(5))
-			if got := Row(cols, []api.Test{one}, row(v)); got != x.want[i] {
+			if got := pred.Row(cols, []api.Test{one}, row(v)); got != x.want[i] {
 				t.Errorf("op %d of %v: %d", x.op, v, got)
 			}
-			if got := Row(cols, []api.Test{not(one)}, row(v)); got != 2-x.want[i] {
+			if got := pred.Row(cols, []api.Test{not(one)}, row(v)); got != 2-x.want[i] {
 				t.Errorf("not op %d of %v: %d", x.op, v, got)
 			}
 		}
-		if got := Row(cols, []api.Test{test("n", x.op, sample.Null())}, row(sample.Int(5))); got != x.null {
+		if got := pred.Row(cols, []api.Test{test("n", x.op, sample.Null())}, row(sample.Int(5))); got != x.null {
 			t.Errorf("op %d against nothing: %d", x.op, got)
 		}
 	}
-	if Row(cols, []api.Test{test("t", api.More, sample.Text("l"))}, row(sample.Null())) != 2 || Row(cols, []api.Test{test("b", api.Equal, sample.Int(1))}, row(sample.Null())) != 2 {
+	if pred.Row(cols, []api.Test{test("t", api.More, sample.Text("l"))}, row(sample.Null())) != 2 || pred.Row(cols, []api.Test{test("b", api.Equal, sample.Int(1))}, row(sample.Null())) != 2 {
 		t.Error("of the other columns")
 	}
 }
@@ -84,7 +85,7 @@ func TestGroups(t *testing.T) {
 		{nil, 2}, {[]api.Test{y, y}, 2}, {[]api.Test{y, w}, 1}, {[]api.Test{w, n}, 0}, {[]api.Test{n, or(y)}, 2}, {[]api.Test{or(n), y}, 0}, {[]api.Test{or(y)}, 2},
 		{[]api.Test{y, n, or(y), w}, 1}, {[]api.Test{y, or(n), n}, 2}, {[]api.Test{n, y, or(w), y, or(n)}, 1}, {[]api.Test{n, or(n), or(w), n}, 0}, {[]api.Test{w, or(not(n))}, 2}, {[]api.Test{not(y), or(not(w))}, 1},
 	} {
-		if got := Row(cols, x.l, row); got != x.want {
+		if got := pred.Row(cols, x.l, row); got != x.want {
 			t.Errorf("%d: %d", i, got)
 		}
 	}
@@ -99,11 +100,11 @@ func TestRows(t *testing.T) {
 		{nil, []int{0, 1, 2, 3}}, {[]api.Test{test("n", api.More, sample.Int(1))}, []int{2, 3}}, {[]api.Test{not(test("n", api.More, sample.Int(1)))}, []int{0}}, {[]api.Test{test("n", api.Equal, sample.Null())}, nil},
 		{[]api.Test{test("n", api.Equal, sample.Int(3)), or(test("t", api.Equal, sample.Text("b")))}, []int{1, 2}},
 	} {
-		if got := Rows(cols, x.l, c); !slices.Equal(got, x.want) {
+		if got := pred.Rows(cols, x.l, c); !slices.Equal(got, x.want) {
 			t.Errorf("%d: %v", i, got)
 		}
 	}
-	if len(Rows(cols, nil, nil)) != 0 {
+	if len(pred.Rows(cols, nil, nil)) != 0 {
 		t.Error("of no rows")
 	}
 }
@@ -118,7 +119,7 @@ func TestCan(t *testing.T) {
 		{nil, true}, {[]api.Test{can}, true}, {[]api.Test{cannot}, false}, {[]api.Test{not(cannot)}, true}, {[]api.Test{can, cannot}, false}, {[]api.Test{cannot, or(can)}, true}, {[]api.Test{can, or(cannot)}, true}, {[]api.Test{can, cannot, or(cannot), can}, false}, {[]api.Test{can, cannot, or(can), can}, true}, {[]api.Test{or(cannot)}, false},
 		{[]api.Test{test("b", api.NotNull, sample.Null())}, false}, {[]api.Test{test("t", api.NotNull, sample.Null())}, true}, {[]api.Test{test("t", api.Null, sample.Null())}, true}, {[]api.Test{test("n", api.Null, sample.Null())}, false}, {[]api.Test{test("t", api.Less, sample.Text("k"))}, false}, {[]api.Test{test("n", api.Equal, sample.Null())}, false}, {[]api.Test{cannot, or(not(cannot))}, true},
 	} {
-		if got := Can(cols, x.l, 2, zones); got != x.want {
+		if got := pred.Can(cols, x.l, 2, zones); got != x.want {
 			t.Errorf("%d: %v", i, got)
 		}
 	}
@@ -148,9 +149,9 @@ func TestWhoPassesIsInASegmentThatCan(t *testing.T) {
 		for range r.Intn(5) {
 			l = append(l, api.Test{Name: []string{"n", "b"}[r.Intn(2)], Op: 1 + r.Intn(8), Value: some(), Or: r.Intn(3) == 0, Not: r.Intn(3) == 0})
 		}
-		if !Can(cols, l, n, zones) {
+		if !pred.Can(cols, l, n, zones) {
 			ruled++
-			if len(Rows(cols, l, c)) > 0 {
+			if len(pred.Rows(cols, l, c)) > 0 {
 				t.Fatalf("%v passes %v", c, l)
 			}
 		}
@@ -163,9 +164,9 @@ func TestWhoPassesIsInASegmentThatCan(t *testing.T) {
 // TestWhatDoesNotFit: rows, zones and names that there are not end no call otherwise.
 func TestWhatDoesNotFit(t *testing.T) {
 	l := []api.Test{test("t", api.Equal, sample.Text("a")), test("zz", 77, api.Value{Type: 9})}
-	Row(cols, l, nil)
-	Rows(cols, l, [][]api.Value{sample.Ints(1)})
-	Can(cols, l, -1, nil)
-	Can(cols, []api.Test{test("n", api.Equal, sample.Int(1))}, 1, nil)
-	Can(cols, l, 1, make([]api.Zone, 1))
+	pred.Row(cols, l, nil)
+	pred.Rows(cols, l, [][]api.Value{sample.Ints(1)})
+	pred.Can(cols, l, -1, nil)
+	pred.Can(cols, []api.Test{test("n", api.Equal, sample.Int(1))}, 1, nil)
+	pred.Can(cols, l, 1, make([]api.Zone, 1))
 }

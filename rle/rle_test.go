@@ -1,4 +1,4 @@
-package rle
+package rle_test
 
 import (
 	"slices"
@@ -6,10 +6,11 @@ import (
 	"testing"
 
 	"rabbet/api"
+	"rabbet/rle"
 	"rabbet/sample"
 )
 
-var codec = sample.Codec{Put: Put, Take: Take}
+var codec = sample.Codec{Put: rle.Put, Take: rle.Take}
 
 func TestPutTake(t *testing.T) {
 	for _, fault := range codec.Good([]sample.Case{

@@ -1,4 +1,4 @@
-package schema
+package schema_test
 
 import (
 	"math/rand"
@@ -7,6 +7,7 @@ import (
 
 	"rabbet/api"
 	"rabbet/sample"
+	"rabbet/schema"
 )
 
 // text is a schema and a layout in few words.
@@ -41,14 +42,14 @@ func TestApply(t *testing.T) {
 		{api.Change{Kind: api.Recode, Col: 5, N: 5}, "a:325 b:143 c:432 d:614 e:545 7 352"},
 	} {
 		s, l := base()
-		s2, l2, e := Apply(s, l, x.c)
+		s2, l2, e := schema.Apply(s, l, x.c)
 		if e != api.OK || text(s2, l2) != x.want {
 			t.Errorf("%v: %v %s", x.c, e, text(s2, l2))
 		}
 		if bs, bl := base(); !reflect.DeepEqual(s, bs) || !reflect.DeepEqual(l, bl) {
 			t.Errorf("%v: what was handed in is changed", x.c)
 		}
-		if e == api.OK && (!May(s2) || !MayLayout(s2, l2)) {
+		if e == api.OK && (!schema.May(s2) || !schema.MayLayout(s2, l2)) {
 			t.Errorf("%v: what comes may not be", x.c)
 		}
 	}
@@ -98,7 +99,7 @@ func TestApplyErrors(t *testing.T) {
 		if x.turn != nil {
 			x.turn(&s, &l)
 		}
-		if s2, l2, e := Apply(s, l, x.c); e != x.want || !reflect.DeepEqual(s2, api.Schema{}) || !reflect.DeepEqual(l2, api.Layout{}) {
+		if s2, l2, e := schema.Apply(s, l, x.c); e != x.want || !reflect.DeepEqual(s2, api.Schema{}) || !reflect.DeepEqual(l2, api.Layout{}) {
 			t.Errorf("%d: %v: %v, not %v", i, x.c, e, x.want)
 		}
 	}
@@ -108,7 +109,7 @@ func TestApplyErrors(t *testing.T) {
 func TestApplyIsNewMemory(t *testing.T) {
 	s, l := base()
 	s.Cols, l.Enc = append(make([]api.Column, 0, 9), s.Cols...), append(make([]int, 0, 9), l.Enc...)
-	s2, l2, _ := Apply(s, l, api.Change{Kind: api.Add, Name: "f", Type: api.Int})
+	s2, l2, _ := schema.Apply(s, l, api.Change{Kind: api.Add, Name: "f", Type: api.Int})
 	if s.Cols[:6][5].ID != 0 || l.Enc[:6][5] != 0 {
 		t.Error("spare room is written")
 	}
@@ -127,11 +128,11 @@ func TestGoesOnToBe(t *testing.T) {
 		if i%1000 == 0 {
 			s, l = base()
 		}
-		s2, l2, e := Apply(s, l, c)
+		s2, l2, e := schema.Apply(s, l, c)
 		if e != api.OK {
 			continue
 		}
-		if !May(s2) || !MayLayout(s2, l2) || s2.Last < s.Last {
+		if !schema.May(s2) || !schema.MayLayout(s2, l2) || s2.Last < s.Last {
 			t.Fatalf("%v makes %v %v", c, s2, l2)
 		}
 		s, l = s2, l2

@@ -1,4 +1,4 @@
-package schema
+package schema_test
 
 import (
 	"strings"
@@ -7,6 +7,7 @@ import (
 	"rabbet/api"
 	"rabbet/fresh"
 	"rabbet/sample"
+	"rabbet/schema"
 )
 
 func base() (api.Schema, api.Layout) {
@@ -16,7 +17,7 @@ func base() (api.Schema, api.Layout) {
 
 func TestMayName(t *testing.T) {
 	for s, want := range map[string]bool{"": false, "a": true, "!~": true, "a b": false, " ": false, "\x7f": false, "é": false, strings.Repeat("x", 12): true, strings.Repeat("x", 13): false, "a\x00": false} {
-		if MayName(s) != want {
+		if schema.MayName(s) != want {
 			t.Errorf("%q: %v", s, !want)
 		}
 	}
@@ -24,7 +25,7 @@ func TestMayName(t *testing.T) {
 
 func TestMay(t *testing.T) {
 	good, _ := base()
-	if !May(good) {
+	if !schema.May(good) {
 		t.Fatal("base")
 	}
 	for i, turn := range []func(s *api.Schema){
@@ -44,15 +45,15 @@ func TestMay(t *testing.T) {
 		func(s *api.Schema) { s.Last = 10001 },
 	} {
 		s := fresh.Schema(good)
-		if turn(&s); May(s) {
+		if turn(&s); schema.May(s) {
 			t.Errorf("%d: %v may be", i, s)
 		}
 	}
-	if !May(api.Schema{Cols: good.Cols[:1], Last: 3}) {
+	if !schema.May(api.Schema{Cols: good.Cols[:1], Last: 3}) {
 		t.Error("one column")
 	}
 	good.Cols, good.Last = append(good.Cols, api.Column{ID: 10000, Name: "f", Type: api.Text}), 10000
-	if !May(good) {
+	if !schema.May(good) {
 		t.Error("six columns, the last ID")
 	}
 }
@@ -60,24 +61,24 @@ func TestMay(t *testing.T) {
 func TestFind(t *testing.T) {
 	s, _ := base()
 	for i, c := range s.Cols {
-		if at, ok := Find(s, c.Name); at != i || !ok {
+		if at, ok := schema.Find(s, c.Name); at != i || !ok {
 			t.Errorf("Find of %s: %d %v", c.Name, at, ok)
 		}
-		if at, ok := ByID(s, c.ID); at != i || !ok {
+		if at, ok := schema.ByID(s, c.ID); at != i || !ok {
 			t.Errorf("ByID of %d: %d %v", c.ID, at, ok)
 		}
 	}
-	if at, ok := Find(s, "z"); at != 0 || ok {
+	if at, ok := schema.Find(s, "z"); at != 0 || ok {
 		t.Error("no such name")
 	}
-	if at, ok := ByID(s, 2); at != 0 || ok {
+	if at, ok := schema.ByID(s, 2); at != 0 || ok {
 		t.Error("no such ID")
 	}
 	twice := api.Schema{Cols: []api.Column{{ID: 2, Name: "x"}, {ID: 1, Name: "y"}, {ID: 1, Name: "y"}}}
-	if at, _ := Find(twice, "y"); at != 1 {
+	if at, _ := schema.Find(twice, "y"); at != 1 {
 		t.Error("of several the first one's")
 	}
-	if at, _ := ByID(twice, 1); at != 1 {
+	if at, _ := schema.ByID(twice, 1); at != 1 {
 		t.Error("of several the first one's")
 	}
 }
@@ -105,7 +106,7 @@ func TestMayLayout(t *testing.T) {
 		{func(l *api.Layout) { l.Enc[4] = 6 }, false},
 	} {
 		l := fresh.Layout(good)
-		if x.turn(&l); MayLayout(s, l) != x.want {
+		if x.turn(&l); schema.MayLayout(s, l) != x.want {
 			t.Errorf("%d: %v", i, l)
 		}
 	}
@@ -122,11 +123,11 @@ func TestFits(t *testing.T) {
 		{sample.List(sample.Small(1), sample.Text("x"), sample.Bool(1), sample.Small(-5), sample.Text("")), false},
 		{sample.List(sample.Int(1), sample.Text("x"), sample.Bool(2), sample.Small(-5), sample.Text("")), false},
 	} {
-		if Fits(s, x.r) != x.want {
+		if schema.Fits(s, x.r) != x.want {
 			t.Errorf("%d: %v", i, x.r)
 		}
 	}
-	if !Fits(api.Schema{}, nil) {
+	if !schema.Fits(api.Schema{}, nil) {
 		t.Error("no values of no columns")
 	}
 }

@@ -1,4 +1,4 @@
-package seg
+package seg_test
 
 import (
 	"math/rand"
@@ -8,6 +8,7 @@ import (
 
 	"rabbet/api"
 	"rabbet/sample"
+	"rabbet/seg"
 )
 
 func two() (types, enc []int, cols [][]api.Value) {
@@ -20,7 +21,7 @@ const twoBytes = "SG\x00\x03\x01\x01\x02\x02" +
 
 func made(t *testing.T) api.Segment {
 	types, enc, cols := two()
-	s, ok := Make(3, 1, 1, types, enc, cols)
+	s, ok := seg.Make(3, 1, 1, types, enc, cols)
 	if !ok {
 		t.Fatal("it is not made")
 	}
@@ -32,26 +33,26 @@ func TestMake(t *testing.T) {
 	_, _, cols := two()
 	want := api.Segment{Version: 3, Part: 1, SortBy: 1, Types: []int{api.Int, api.Text}, Enc: []int{api.Delta, api.Dict}, Cols: cols,
 		Zones: []api.Zone{{Min: sample.Int(1), Max: sample.Int(2)}, {Nulls: 1, Min: sample.Text("a"), Max: sample.Text("a")}}}
-	if !reflect.DeepEqual(s, want) || !May(s) || Rows(s) != 2 {
+	if !reflect.DeepEqual(s, want) || !seg.May(s) || seg.Rows(s) != 2 {
 		t.Errorf("%v", s)
 	}
-	if string(Put(s)) != twoBytes {
-		t.Errorf("Put: %x", Put(s))
+	if string(seg.Put(s)) != twoBytes {
+		t.Errorf("Put: %x", seg.Put(s))
 	}
-	if got, ok := Take([]byte(twoBytes)); !ok || !reflect.DeepEqual(got, want) {
+	if got, ok := seg.Take([]byte(twoBytes)); !ok || !reflect.DeepEqual(got, want) {
 		t.Errorf("Take: %v %v", got, ok)
 	}
-	one, ok := Make(0, 0, 0, []int{api.Bool}, []int{api.Plain}, [][]api.Value{sample.Bools(1)})
-	if got, ok2 := Take(Put(one)); !ok || !ok2 || !reflect.DeepEqual(got, one) {
+	one, ok := seg.Make(0, 0, 0, []int{api.Bool}, []int{api.Plain}, [][]api.Value{sample.Bools(1)})
+	if got, ok2 := seg.Take(seg.Put(one)); !ok || !ok2 || !reflect.DeepEqual(got, one) {
 		t.Errorf("of one row: %v", got)
 	}
 }
 
 func TestMakeIsNewMemory(t *testing.T) {
 	types, enc, cols := two()
-	s, _ := Make(3, 1, 1, types, enc, cols)
+	s, _ := seg.Make(3, 1, 1, types, enc, cols)
 	types[0], enc[0], cols[0][0] = 9, 9, sample.Null()
-	if !May(s) {
+	if !seg.May(s) {
 		t.Error("memory is shared")
 	}
 }
@@ -70,11 +71,11 @@ func TestMakeOfNone(t *testing.T) {
 		{0, 0, 0, []int{0}, []int{1}, [][]api.Value{long[:1]}}, {0, 0, 0, []int{1}, []int{6}, [][]api.Value{long[:1]}}, {0, 0, 0, []int{1}, []int{1}, [][]api.Value{sample.Ints(1)}},
 		{0, 0, 0, slices.Repeat([]int{1}, 7), slices.Repeat([]int{1}, 7), slices.Repeat([][]api.Value{long[:1]}, 7)},
 	} {
-		if s, ok := Make(x.version, x.part, x.sortBy, x.types, x.enc, x.cols); ok || !reflect.DeepEqual(s, api.Segment{}) {
+		if s, ok := seg.Make(x.version, x.part, x.sortBy, x.types, x.enc, x.cols); ok || !reflect.DeepEqual(s, api.Segment{}) {
 			t.Errorf("%d: %v", i, s)
 		}
 	}
-	if _, ok := Make(200, 3, 1, slices.Repeat([]int{1}, 6), slices.Repeat([]int{5}, 6), slices.Repeat([][]api.Value{long[:16]}, 6)); !ok {
+	if _, ok := seg.Make(200, 3, 1, slices.Repeat([]int{1}, 6), slices.Repeat([]int{5}, 6), slices.Repeat([][]api.Value{long[:16]}, 6)); !ok {
 		t.Error("as great as may be")
 	}
 }
@@ -88,33 +89,33 @@ func TestMayNot(t *testing.T) {
 		func(s *api.Segment) { s.Cols[0][0] = sample.Int(2); s.Cols[0][1] = sample.Int(1) }, func(s *api.Segment) { s.Cols[1] = s.Cols[1][:1] }, func(s *api.Segment) { *s = api.Segment{} },
 	} {
 		s := made(t)
-		if turn(&s); May(s) || Put(s) != nil {
+		if turn(&s); seg.May(s) || seg.Put(s) != nil {
 			t.Errorf("%d: %v may be", i, s)
 		}
 	}
 	s := made(t)
-	if s.SortBy = 2; !May(s) {
+	if s.SortBy = 2; !seg.May(s) {
 		t.Error("sorted by the other column")
 	}
-	if s.SortBy = 0; !May(s) {
+	if s.SortBy = 0; !seg.May(s) {
 		t.Error("sorted by none")
 	}
 }
 
 func TestTakeOfNone(t *testing.T) {
 	for k := range len(twoBytes) {
-		if s, ok := Take([]byte(twoBytes[:k])); ok || !reflect.DeepEqual(s, api.Segment{}) {
+		if s, ok := seg.Take([]byte(twoBytes[:k])); ok || !reflect.DeepEqual(s, api.Segment{}) {
 			t.Errorf("cut off at %d", k)
 		}
 	}
-	if _, ok := Take([]byte(twoBytes + "\x00")); ok {
+	if _, ok := seg.Take([]byte(twoBytes + "\x00")); ok {
 		t.Error("something behind it")
 	}
 	for at := range len(twoBytes) {
 		for bit := range 8 {
 			b := []byte(twoBytes)
 			b[at] ^= 1 << bit
-			if s, ok := Take(b); ok && string(Put(s)) != string(b) {
+			if s, ok := seg.Take(b); ok && string(seg.Put(s)) != string(b) {
 				t.Errorf("bit %d of byte %d: %v", bit, at, s)
 			} else if ok && at != 2 && at != 3 && at != 4 && at != 5 && at < 8 {
 				t.Errorf("bit %d of byte %d: %v", bit, at, s)
@@ -122,7 +123,7 @@ func TestTakeOfNone(t *testing.T) {
 		}
 	}
 	for _, b := range []string{"", "SG", "SG\x00\x00\x00\x00\xff\xff", "SG\x00\x00\x00\x00\x06\x10\x04\x00\x00\x00\xff\xff"} {
-		if _, ok := Take([]byte(b)); ok {
+		if _, ok := seg.Take([]byte(b)); ok {
 			t.Errorf("%x is taken", b)
 		}
 	}
@@ -147,15 +148,15 @@ func TestWhatIsPutIsTaken(t *testing.T) {
 			}
 			types, enc, cols = append(types, ty), append(enc, 1+r.Intn(5)), append(cols, l)
 		}
-		s, ok := Make(r.Intn(201), r.Intn(4), 0, types, enc, cols)
-		if got, ok2 := Take(Put(s)); !ok || !ok2 || !reflect.DeepEqual(got, s) {
+		s, ok := seg.Make(r.Intn(201), r.Intn(4), 0, types, enc, cols)
+		if got, ok2 := seg.Take(seg.Put(s)); !ok || !ok2 || !reflect.DeepEqual(got, s) {
 			t.Fatalf("%v: %v", s, got)
 		}
 	}
 }
 
 func TestRowsOfNone(t *testing.T) {
-	if Rows(api.Segment{}) != 0 || Rows(api.Segment{Cols: [][]api.Value{nil, sample.Ints(1)}}) != 0 {
+	if seg.Rows(api.Segment{}) != 0 || seg.Rows(api.Segment{Cols: [][]api.Value{nil, sample.Ints(1)}}) != 0 {
 		t.Error("rows of what is none")
 	}
 }

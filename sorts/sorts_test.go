@@ -1,4 +1,4 @@
-package sorts
+package sorts_test
 
 import (
 	"slices"
@@ -6,6 +6,7 @@ import (
 
 	"rabbet/api"
 	"rabbet/sample"
+	"rabbet/sorts"
 )
 
 func TestOrder(t *testing.T) {
@@ -15,30 +16,30 @@ func TestOrder(t *testing.T) {
 		sample.Texts("x", "y", "x", "x", "y", "y"),
 	}
 	for _, x := range []struct {
-		keys []Key
+		keys []sorts.Key
 		want []int
 	}{
 		{nil, []int{0, 1, 2, 3, 4, 5}},
-		{[]Key{{At: 0}}, []int{1, 2, 5, 0, 3, 4}},
-		{[]Key{{At: 0, Down: true}}, []int{4, 0, 3, 2, 5, 1}},
-		{[]Key{{At: 0}, {At: 1}}, []int{1, 5, 2, 3, 0, 4}},
-		{[]Key{{At: 2}, {At: 0, Down: true}}, []int{0, 3, 2, 4, 5, 1}},
-		{[]Key{{At: 2, Down: true}}, []int{1, 4, 5, 0, 2, 3}},
-		{[]Key{{At: 3}, {At: -1, Down: true}, {At: 1}}, []int{5, 4, 3, 2, 1, 0}},
-		{[]Key{{At: 1 << 62}}, []int{0, 1, 2, 3, 4, 5}},
+		{[]sorts.Key{{At: 0}}, []int{1, 2, 5, 0, 3, 4}},
+		{[]sorts.Key{{At: 0, Down: true}}, []int{4, 0, 3, 2, 5, 1}},
+		{[]sorts.Key{{At: 0}, {At: 1}}, []int{1, 5, 2, 3, 0, 4}},
+		{[]sorts.Key{{At: 2}, {At: 0, Down: true}}, []int{0, 3, 2, 4, 5, 1}},
+		{[]sorts.Key{{At: 2, Down: true}}, []int{1, 4, 5, 0, 2, 3}},
+		{[]sorts.Key{{At: 3}, {At: -1, Down: true}, {At: 1}}, []int{5, 4, 3, 2, 1, 0}},
+		{[]sorts.Key{{At: 1 << 62}}, []int{0, 1, 2, 3, 4, 5}},
 	} {
-		if got := Order(cols, x.keys); !slices.Equal(got, x.want) {
+		if got := sorts.Order(cols, x.keys); !slices.Equal(got, x.want) {
 			t.Errorf("%v: %v", x.keys, got)
 		}
 	}
-	if len(Order(nil, []Key{{At: 0}})) != 0 {
+	if len(sorts.Order(nil, []sorts.Key{{At: 0}})) != 0 {
 		t.Error("of no columns")
 	}
 }
 
 func TestOrderOfUnevenColumns(t *testing.T) {
 	cols := [][]api.Value{sample.Ints(3, 2, 1), sample.Ints(1, 2)}
-	if got := Order(cols, []Key{{At: 0}}); !slices.Equal(got, []int{1, 0}) {
+	if got := sorts.Order(cols, []sorts.Key{{At: 0}}); !slices.Equal(got, []int{1, 0}) {
 		t.Errorf("%v", got)
 	}
 }
@@ -46,14 +47,14 @@ func TestOrderOfUnevenColumns(t *testing.T) {
 func TestIs(t *testing.T) {
 	cols := [][]api.Value{sample.Ints(1, 2, 2), sample.Ints(1, 3, 2), sample.List(sample.Null(), sample.Null(), sample.Int(-1), sample.Text("")), nil, sample.List(sample.Int(1), sample.Null())}
 	for at, want := range []bool{true, false, true, true, false, true} {
-		if Is(cols, at) != want {
+		if sorts.Is(cols, at) != want {
 			t.Errorf("column %d: %v", at, !want)
 		}
 	}
-	if Is(cols[1:], 0) {
+	if sorts.Is(cols[1:], 0) {
 		t.Error("the first column")
 	}
-	if !Is(cols, -1) || !Is(nil, 0) {
+	if !sorts.Is(cols, -1) || !sorts.Is(nil, 0) {
 		t.Error("no such column")
 	}
 }

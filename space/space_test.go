@@ -1,17 +1,18 @@
-package space
+package space_test
 
 import (
 	"math/rand"
 	"testing"
 
 	"rabbet/api"
+	"rabbet/space"
 )
 
 func ext(at, n int) api.Extent { return api.Extent{At: at, N: n} }
 
 func TestNew(t *testing.T) {
 	for _, x := range []struct{ from, n, first, most int }{{10, 4, 10, 4}, {-3, 4, 0, 4}, {5, -1, 0, 0}, {5, 0, 0, 0}, {0, 4000, 0, 4000}, {7, 4001, 7, 4000}, {7, 1 << 60, 7, 4000}} {
-		s := New(x.from, x.n)
+		s := space.New(x.from, x.n)
 		if s.Used() != 0 {
 			t.Errorf("New(%d, %d): %d taken", x.from, x.n, s.Used())
 		}
@@ -26,7 +27,7 @@ func TestNew(t *testing.T) {
 }
 
 func TestTake(t *testing.T) {
-	s := New(10, 10)
+	s := space.New(10, 10)
 	s.Mark(ext(12, 1))
 	s.Mark(ext(16, 1))
 	for _, x := range []struct {
@@ -43,7 +44,7 @@ func TestTake(t *testing.T) {
 }
 
 func TestMarkFree(t *testing.T) {
-	s := New(10, 4)
+	s := space.New(10, 4)
 	for i, x := range []struct {
 		free bool
 		e    api.Extent
@@ -68,7 +69,7 @@ func TestMarkFree(t *testing.T) {
 
 func TestWhatIsTakenDoesNotMeet(t *testing.T) {
 	r := rand.New(rand.NewSource(7))
-	s := New(3, 40)
+	s := space.New(3, 40)
 	var held []api.Extent
 	owner := map[int]bool{}
 	for range 5000 {
@@ -100,7 +101,7 @@ func TestWhatIsTakenDoesNotMeet(t *testing.T) {
 }
 
 func TestCopy(t *testing.T) {
-	s := New(0, 4)
+	s := space.New(0, 4)
 	s.Take(1)
 	c := s.Copy()
 	c.Take(2)
@@ -113,7 +114,7 @@ func TestCopy(t *testing.T) {
 }
 
 func TestNil(t *testing.T) {
-	var s *Space
+	var s *space.Space
 	if e, ok := s.Take(1); ok || e != (api.Extent{}) || s.Mark(ext(0, 1)) || s.Free(ext(0, 1)) || s.Used() != 0 || s.Copy() != nil {
 		t.Error("of a nil Space")
 	}

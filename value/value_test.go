@@ -1,4 +1,4 @@
-package value
+package value_test
 
 import (
 	"slices"
@@ -6,6 +6,7 @@ import (
 	"testing"
 
 	"rabbet/api"
+	"rabbet/value"
 )
 
 func num(t int, n int64) api.Value { return api.Value{Type: t, I: n} }
@@ -31,16 +32,16 @@ var bad = []api.Value{
 
 func TestGood(t *testing.T) {
 	for _, x := range good {
-		if !May(x.v) || string(Put(x.v)) != x.want {
-			t.Errorf("%v: %v %x", x.v, May(x.v), Put(x.v))
+		if !value.May(x.v) || string(value.Put(x.v)) != x.want {
+			t.Errorf("%v: %v %x", x.v, value.May(x.v), value.Put(x.v))
 		}
 		for _, tail := range []string{"", "\x00", "more"} {
-			if v, n, ok := Take([]byte(x.want + tail)); !ok || v != x.v || n != len(x.want) {
+			if v, n, ok := value.Take([]byte(x.want + tail)); !ok || v != x.v || n != len(x.want) {
 				t.Errorf("%v with %q: %v %d %v", x.v, tail, v, n, ok)
 			}
 		}
 		for k := range x.want {
-			if v, n, ok := Take([]byte(x.want[:k])); ok || n != 0 || v != (api.Value{}) {
+			if v, n, ok := value.Take([]byte(x.want[:k])); ok || n != 0 || v != (api.Value{}) {
 				t.Errorf("%v: taken from its first %d", x.v, k)
 			}
 		}
@@ -49,17 +50,17 @@ func TestGood(t *testing.T) {
 
 func TestBad(t *testing.T) {
 	for _, v := range bad {
-		if May(v) || Put(v) != nil {
+		if value.May(v) || value.Put(v) != nil {
 			t.Errorf("%v may be", v)
 		}
 		for ty := range 6 {
-			if Fits(ty, v) {
+			if value.Fits(ty, v) {
 				t.Errorf("%v fits %d", v, ty)
 			}
 		}
 	}
 	for _, s := range []string{"", "\x03\x02", "\x03\xff", "\x05", "\xff", "\x04\x15" + strings.Repeat("y", 21)} {
-		if v, n, ok := Take([]byte(s)); ok || n != 0 || v != (api.Value{}) {
+		if v, n, ok := value.Take([]byte(s)); ok || n != 0 || v != (api.Value{}) {
 			t.Errorf("%x is taken", s)
 		}
 	}
@@ -69,7 +70,7 @@ func TestFits(t *testing.T) {
 	for _, x := range good {
 		for ty := -1; ty <= 6; ty++ {
 			want := ty >= api.Small && ty <= api.Text && (x.v.Type == 0 || x.v.Type == ty)
-			if Fits(ty, x.v) != want {
+			if value.Fits(ty, x.v) != want {
 				t.Errorf("Fits(%d, %v) is %v", ty, x.v, !want)
 			}
 		}
@@ -91,8 +92,8 @@ func TestCompare(t *testing.T) {
 			want := min(max(i-k, -1), 1)
 			for _, a := range as {
 				for _, b := range bs {
-					if Compare(a, b) != want {
-						t.Errorf("Compare(%v, %v): %d", a, b, Compare(a, b))
+					if value.Compare(a, b) != want {
+						t.Errorf("Compare(%v, %v): %d", a, b, value.Compare(a, b))
 					}
 				}
 			}
@@ -101,10 +102,10 @@ func TestCompare(t *testing.T) {
 }
 
 func TestPutIsNewMemory(t *testing.T) {
-	b := Put(text("abc"))
-	v, _, _ := Take(b)
+	b := value.Put(text("abc"))
+	v, _, _ := value.Take(b)
 	b[2] = 'z'
-	if v.S != "abc" || !slices.Equal(Put(text("abc")), []byte("\x04\x03abc")) {
+	if v.S != "abc" || !slices.Equal(value.Put(text("abc")), []byte("\x04\x03abc")) {
 		t.Error("what was told hangs on what was handed in")
 	}
 }
@@ -114,7 +115,7 @@ func FuzzTake(f *testing.F) {
 		f.Add([]byte(x.want))
 	}
 	f.Fuzz(func(t *testing.T, b []byte) {
-		if v, n, ok := Take(b); ok && string(Put(v)) != string(b[:n]) {
+		if v, n, ok := value.Take(b); ok && string(value.Put(v)) != string(b[:n]) {
 			t.Errorf("%x: %v", b, v)
 		}
 	})

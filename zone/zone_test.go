@@ -1,4 +1,4 @@
-package zone
+package zone_test
 
 import (
 	"math/rand"
@@ -8,6 +8,7 @@ import (
 	"rabbet/api"
 	"rabbet/sample"
 	"rabbet/value"
+	"rabbet/zone"
 )
 
 func TestOf(t *testing.T) {
@@ -24,8 +25,8 @@ func TestOf(t *testing.T) {
 		{sample.List(sample.Int(1), sample.Bool(1), sample.Small(1)), api.Zone{Min: sample.Int(1), Max: sample.Int(1)}},
 		{sample.List(sample.Bool(1), sample.Text("a"), sample.Int(1)), api.Zone{Min: sample.Bool(1), Max: sample.Text("a")}},
 	} {
-		if Of(x.l) != x.want {
-			t.Errorf("%d: %v", i, Of(x.l))
+		if zone.Of(x.l) != x.want {
+			t.Errorf("%d: %v", i, zone.Of(x.l))
 		}
 	}
 }
@@ -44,11 +45,11 @@ func TestCan(t *testing.T) {
 		{api.Zone{Nulls: 4}, 4, api.Equal, "00000"}, {api.Zone{Nulls: 4}, 4, api.Unequal, "00000"}, {api.Zone{Nulls: 4}, 4, api.Less, "00000"}, {api.Zone{Nulls: 4}, 4, api.Least, "00000"}, {api.Zone{Nulls: 4}, 4, api.NotNull, "00000"}, {api.Zone{Nulls: 4}, 4, api.Null, "11111"},
 	} {
 		for i, w := range x.want {
-			if Can(x.z, x.n, x.op, sample.Int(int64(2+i))) != (w == '1') {
+			if zone.Can(x.z, x.n, x.op, sample.Int(int64(2+i))) != (w == '1') {
 				t.Errorf("%v: op %d of %d", x.z, x.op, 2+i)
 			}
 		}
-		if null := x.op == api.Null || x.op == api.NotNull; Can(x.z, x.n, x.op, sample.Null()) != (null && x.want[0] == '1') {
+		if null := x.op == api.Null || x.op == api.NotNull; zone.Can(x.z, x.n, x.op, sample.Null()) != (null && x.want[0] == '1') {
 			t.Errorf("%v: op %d of nothing", x.z, x.op)
 		}
 	}
@@ -67,7 +68,7 @@ func TestNoRowIsPassedOver(t *testing.T) {
 		}
 		v, op := sample.Int(int64(r.Intn(5))), api.Equal+r.Intn(6)
 		for _, x := range l {
-			if passes(op, value.Compare(x, v)) && !Can(Of(l), len(l), op, v) {
+			if passes(op, value.Compare(x, v)) && !zone.Can(zone.Of(l), len(l), op, v) {
 				t.Fatalf("%v: op %d of %v", l, op, v)
 			}
 		}
@@ -77,7 +78,7 @@ func TestNoRowIsPassedOver(t *testing.T) {
 func TestSame(t *testing.T) {
 	z := api.Zone{Nulls: 1, Min: sample.Int(3), Max: sample.Int(5)}
 	for i, o := range []api.Zone{{Nulls: 2, Min: z.Min, Max: z.Max}, {Nulls: 1, Min: sample.Small(3), Max: z.Max}, {Nulls: 1, Min: z.Min, Max: sample.Int(6)}, {}} {
-		if Same(z, o) || !Same(o, o) {
+		if zone.Same(z, o) || !zone.Same(o, o) {
 			t.Errorf("%d", i)
 		}
 	}
@@ -90,16 +91,16 @@ func TestPutTake(t *testing.T) {
 	}{
 		{api.Zone{}, "\x00\x00\x00"}, {api.Zone{Nulls: 300}, "\xac\x02\x00\x00"}, {api.Zone{Nulls: 1, Min: sample.Small(-1), Max: sample.Text("b")}, "\x01\x01\xff\xff\x04\x01b"}, {api.Zone{Nulls: 1<<63 - 1}, "\xff\xff\xff\xff\xff\xff\xff\xff\x7f\x00\x00"},
 	} {
-		if string(Put(x.z)) != x.want {
-			t.Errorf("Put(%v): %x", x.z, Put(x.z))
+		if string(zone.Put(x.z)) != x.want {
+			t.Errorf("Put(%v): %x", x.z, zone.Put(x.z))
 		}
 		for _, tail := range []string{"", "\x00", "zz"} {
-			if z, n, ok := Take([]byte(x.want + tail)); z != x.z || n != len(x.want) || !ok {
+			if z, n, ok := zone.Take([]byte(x.want + tail)); z != x.z || n != len(x.want) || !ok {
 				t.Errorf("Take of %x: %v", x.want+tail, z)
 			}
 		}
 		for k := range x.want {
-			if z, n, ok := Take([]byte(x.want[:k])); z != (api.Zone{}) || n != 0 || ok {
+			if z, n, ok := zone.Take([]byte(x.want[:k])); z != (api.Zone{}) || n != 0 || ok {
 				t.Errorf("Take of %x: %v", x.want[:k], z)
 			}
 		}
@@ -108,12 +109,12 @@ func TestPutTake(t *testing.T) {
 
 func TestOfNone(t *testing.T) {
 	for _, z := range []api.Zone{{Nulls: -1}, {Min: api.Value{I: 1}}, {Max: api.Value{Type: 7}}, {Min: sample.Text(strings.Repeat("a", 21))}} {
-		if Put(z) != nil {
+		if zone.Put(z) != nil {
 			t.Errorf("%v is put", z)
 		}
 	}
 	for _, s := range []string{"", "\x80\x00\x00\x00", "\x00\x05\x00", "\x00\x00\x03\x02", "\x80\x80\x80\x80\x80\x80\x80\x80\x80\x01\x00\x00"} {
-		if z, n, ok := Take([]byte(s)); z != (api.Zone{}) || n != 0 || ok {
+		if z, n, ok := zone.Take([]byte(s)); z != (api.Zone{}) || n != 0 || ok {
 			t.Errorf("%x: %v", s, z)
 		}
 	}
