@@ -218,19 +218,37 @@ func TestCommitOfNoRoom(t *testing.T) {
 	has(t, s, rows(0, n+1))
 }
 
-// TestCommitBegunOfNoRoom: though the record itself has room, nothing is begun of which all has none.
-func TestCommitBegunOfNoRoom(t *testing.T) {
-	sc, l := wideTable(4)
-	begun := cat.Record{Kind: cat.Begun, Change: api.Change{Kind: api.Add, Name: "another_name", Type: api.Text, Value: sample.Text("a text of its length")}}
-	area := (len(cat.Put(cat.Record{Kind: cat.All, State: api.State{Schema: sc, Layout: l}}))+113)/110 + 1
-	d := device(30)
-	if e := store.Make(d, area, sc, l); e != api.OK {
-		t.Fatal(e)
+// TestCommitBegunOfJustRoom: though the record itself has room behind the others, nothing is begun of which all has none.
+func TestCommitBegunOfJustRoom(t *testing.T) {
+	seen := map[int]bool{}
+	for n := range 4 * 21 * 12 {
+		sc, l := wideTable(2 + n%4)
+		sc.Cols[0].Name = sc.Cols[0].Name[:1+n/4%12]
+		begun := cat.Record{Kind: cat.Begun, Change: api.Change{Kind: api.Add, Name: "another_name", Type: api.Text, Value: sample.Text("a text of its length"[:n/48])}}
+		state := api.State{Schema: sc, Layout: l}
+		area := (len(cat.Put(cat.Record{Kind: cat.All, State: state}))+113)/110 + 1
+		next, e := cat.Apply(state, begun)
+		if e != api.OK {
+			t.Fatal(e)
+		}
+		room := area*110 - 4 - len(cat.Put(cat.Record{Kind: cat.All, State: next}))
+		if seen[room] || room < -1 || room > 0 {
+			continue
+		}
+		seen[room] = true
+		d := device(30)
+		if e := store.Make(d, area, sc, l); e != api.OK {
+			t.Fatal(e)
+		}
+		s := opened(t, d, area)
+		writes := d.Writes()
+		e = s.Commit(begun)
+		if (e == api.OK) != (room == 0) || e != api.OK && (e != api.EFull || d.Writes() != writes || s.State().Busy) {
+			t.Errorf("%d bytes of room: %v", room, e)
+		}
 	}
-	s := opened(t, d, area)
-	n := d.Writes()
-	if e := s.Commit(begun); e != api.EFull || d.Writes() != n || s.State().Busy {
-		t.Errorf("%v", e)
+	if !seen[0] || !seen[-1] {
+		t.Error("it was never just so")
 	}
 }
 
